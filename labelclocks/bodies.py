@@ -8,15 +8,17 @@ MOST_NODES = 150
 MOST_NODES_DEEP = 10
 MOST_PORT = 5
 MOST_FAIL = 9
+STATEMENTS = ("put", "call", "if", "while", "break", "again", "give", "show", "ask", "fail")
+EXPRESSIONS = (
+    "number", "truth", "read", "plus", "minus", "times", "over", "rest", "less", "same", "and", "or", "not",
+)
+PLACES = ("name", "field", "item")
 # how many items the tuples of nodes have, by their words
-STATEMENTS = {
+LENGTHS = {
     "put": 3, "call": 4, "if": 4, "while": 3, "break": 1, "again": 1, "give": 2, "show": 3, "ask": 2, "fail": 2,
-}
-EXPRESSIONS = {
     "number": 2, "truth": 2, "read": 2, "plus": 3, "minus": 3, "times": 3, "over": 3, "rest": 3, "less": 3, "same": 3,
-    "and": 3, "or": 3, "not": 2,
+    "and": 3, "or": 3, "not": 2, "name": 2, "field": 3, "item": 3,
 }
-PLACES = {"name": 2, "field": 3, "item": 3}
 # the kinds of what the words take and make
 SIGN_KINDS = {
     "plus": ("number", "number"), "minus": ("number", "number"), "times": ("number", "number"),
@@ -41,7 +43,7 @@ class BodyJudge:
         self.most = most
         self.nodes = 0
 
-    def may_stand(self, node, depth, lengths):
+    def may_stand(self, node, depth, words):
         """Whether a node of one of these words may stand at this depth; it is counted."""
         self.nodes += 1
         # counted first, so that what holds itself in many places is not gone through for long
@@ -49,7 +51,7 @@ class BodyJudge:
             return False
         if not isinstance(node, tuple) or not node or not isinstance(node[0], str):
             return False
-        return node[0] in lengths and len(node) == lengths[node[0]]
+        return node[0] in words and len(node) == LENGTHS[node[0]]
 
     def is_body(self, body, depth, looped):
         """Whether body is one; looped tells whether it stands in a while."""

@@ -185,6 +185,26 @@ class FormTest(unittest.TestCase):
                     bound.append(node.name)
             self.assertEqual(len(bound), len(set(bound)), name)
 
+    def test_tables_are_only_read(self):
+        tables = [
+            node.targets[0].id for _, tree in self.trees for node in tree.body
+            if isinstance(node, ast.Assign) and isinstance(node.value, (ast.Dict, ast.List))]
+        for name, tree in self.trees:
+            parents = {}
+            for node in ast.walk(tree):
+                for child in ast.iter_child_nodes(node):
+                    parents[child] = node
+            for node in ast.walk(tree):
+                if isinstance(node, ast.Name) and node.id in tables and isinstance(node.ctx, ast.Load):
+                    parent = parents[node]
+                    if isinstance(parent, ast.Attribute):
+                        self.assertIn(parent.attr, ("get", "items", "keys", "values"), f"{name}:{node.lineno}")
+                    elif isinstance(parent, ast.Call):
+                        self.assertIn(parent.func.id, ("list", "dict", "len", "sorted"), f"{name}:{node.lineno}")
+                    else:
+                        kinds = (ast.Subscript, ast.Compare, ast.For, ast.comprehension)
+                        self.assertIsInstance(parent, kinds, f"{name}:{node.lineno}")
+
     def test_names(self):
         for name, tree in self.trees:
             tops = [node.name for node in tree.body if isinstance(node, ast.ClassDef)]
