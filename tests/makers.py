@@ -114,7 +114,8 @@ class BodyMaker:
 
     def body(self, depth, looped, most=5):
         found = []
-        for _ in range(self.dice.randint(0, most)):
+        least = most // 2 if self.tame and depth < 3 else 0
+        for _ in range(self.dice.randint(least, most)):
             if self.left is not None and self.left < 12:
                 break
             statement = self.statement(depth, looped)
@@ -129,21 +130,21 @@ class BodyMaker:
         ))
         deeper = depth + 1
         if word in ("break", "again"):
-            if not looped or self.tame and self.dice.random() < 0.5:
+            if not looped or self.tame and self.dice.random() < 0.8:
                 return None
             self.count()
             return (word,)
         if word == "fail":
-            if self.tame and self.dice.random() < 0.8:
+            if self.tame and self.dice.random() < 0.95:
                 return None
             self.count()
             return (word, self.dice.randint(0, 9))
         if word == "give" and self.result is None:
-            if self.dice.random() < 0.7:
+            if self.dice.random() < (0.95 if self.tame else 0.7):
                 return None
             self.count()
             return (word, None)
-        if word == "give" and self.dice.random() < 0.6:
+        if word == "give" and self.dice.random() < (0.9 if self.tame else 0.6):
             return None
         if word == "call":
             return self.call(depth)
@@ -158,6 +159,8 @@ class BodyMaker:
             test = self.expression("truth", deeper)
             first = self.body(deeper, looped, 3)
             return (word, test, first, self.body(deeper, looped, 3))
+        if word == "while" and self.tame and depth < 7 and self.dice.random() < 0.9:
+            return self.counting(depth)
         if word == "while":
             test = self.expression("truth", deeper)
             return (word, test, self.body(deeper, True, 4))
@@ -168,8 +171,20 @@ class BodyMaker:
         place = self.place([kind], deeper)
         return None if place is None else (word, place, self.expression(kind, deeper))
 
+    def counting(self, depth):
+        """A while that counts, and so is mostly over at some time."""
+        names = [name for name, kind in self.names.items() if kind == "number"]
+        if not names:
+            return None
+        place = ("name", self.dice.choice(names))
+        self.count(10)
+        most = self.dice.randrange(1, min(self.size, 8))
+        test = ("less", ("read", place), ("number", most))
+        step = ("put", place, ("plus", ("read", place), ("number", 1)))
+        return ("while", test, (step,) + self.body(depth + 1, True, 4))
+
     def call(self, depth):
-        if not self.calls:
+        if not self.calls or self.tame and self.dice.random() < 0.3:
             return None
         callee, ways, result = self.dice.choice(self.calls)
         if ways and depth + 1 > DEEP:

@@ -31,8 +31,22 @@ INTERFACE = {
     "texts": [
         "kind_text(kind)", "unit_text(unit)", "program_text(program)", "spot_of(unit, f, path)", "label_spots(unit, f)"],
     "readtexts": ["kind_of(text)", "unit_of(text)", "program_of(text)", "completed_unit(text)", "completed(text)"],
+    "meaning": [],
+    "sourceroads": ["road_book(unit)", "is_road_book(value)", "follows(program, labels)"],
+    "loose": ["is_loose(value)"],
+    "given": ["unmarked(rows, f)", "lacking(rows, f)"],
+    "rows": ["is_rows(value)"],
+    "rowruns": [],
+    "rowroads": ["blocks_of(all_rows, labels)"],
+    "rownames": ["names_held(unit, f)"],
 }
-CLASSES = {}
+CLASSES = {
+    "meaning.Run(program, inputs)": [
+        "go(many)", "trace()", "stations()", "state()", "left()", "calls()", "frames()", "cells(unit, store)", "wraps()"],
+    "rowruns.RowRun(all_rows, inputs)": [
+        "go(many)", "trace()", "stations()", "state()", "left()", "cells(unit, store)", "calls()", "frames()",
+        "trodden()"],
+}
 
 
 def files():
