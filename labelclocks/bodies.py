@@ -105,10 +105,10 @@ class BodyJudge:
         if statement[1] is not None:
             if result is None or self.place_kind(statement[1], deeper) != result:
                 return False
-        args = statement[3]
-        if not is_tuple_of(args, len(ways)):
+        passed = statement[3]
+        if not is_tuple_of(passed, len(ways)):
             return False
-        for at, arg in enumerate(args):
+        for at, arg in enumerate(passed):
             way, kind = ways[at]
             told = self.kind_of(arg, deeper) if way == "worth" else self.place_kind(arg, deeper)
             if told != kind:

@@ -140,14 +140,14 @@ class CodeJudge:
         """Whether any value is the number of a block."""
         return is_within(value, 0, len(self.code[4]) - 1)
 
-    def are_args(self, callee, args):
-        """Whether callee is one, and args are as many temps as it has params."""
+    def are_args(self, callee, passed):
+        """Whether callee is one, and what is passed are as many temps as it has params."""
         if not is_tuple_of(callee, 2) or not is_whole(callee[1]) or callee[1] < 0:
             return False
         if callee[0] == "own":
             known = callee[1] < len(self.rows[5])
         else:
             known = callee[0] == "use" and callee[1] < len(self.rows[3])
-        if not known or not is_tuple_of(args, len(code_head(self.rows, callee)[0])):
+        if not known or not is_tuple_of(passed, len(code_head(self.rows, callee)[0])):
             return False
-        return all([is_temp(arg) for arg in args])
+        return all([is_temp(arg) for arg in passed])

@@ -97,13 +97,13 @@ class Run:
     def _station(self, call, number):
         return self.program[call.unit][0], call.f, number
 
-    def _begin(self, u, f, args):
+    def _begin(self, u, f, passed):
         """Begins a call with these numbers and addresses."""
         function = self.program[u][4][f]
         call = Call(u, f, self.codes[u][f].orders)
         for name in self.stores[u]:
             call.places[name] = (self.stores[u][name], 0)
-        for (name, way, _), arg in zip(function[1], args):
+        for (name, way, _), arg in zip(function[1], passed):
             if way == "worth":
                 call.add_area(name, [arg])
             else:
@@ -125,9 +125,9 @@ class Run:
         elif word == "item":
             self._index(call, order)
         elif word == "label":
-            self.tape.add(("label", self._station(call, order[1])), None)
+            self.tape.make(("label", self._station(call, order[1])), None)
         elif word == "show":
-            self.tape.add(("shown", order[1], call.stack.pop()), self._station(call, order[2]))
+            self.tape.make(("shown", order[1], call.stack.pop()), self._station(call, order[2]))
         elif word == "ask":
             self._ask(call, order[1])
         elif word == "fail":
@@ -168,12 +168,12 @@ class Run:
 
     def _call(self, call, order):
         _, callee, many, _ = order
-        args = call.stack[len(call.stack) - many:]
+        passed = call.stack[len(call.stack) - many:]
         call.stack = call.stack[:len(call.stack) - many]
         u, f = call.unit, callee[1]
         if callee[0] == "use":
             u, f = self._met(self.program[u][2][callee[1]])
-        self._begin(u, f, args)
+        self._begin(u, f, passed)
 
     def _met(self, use):
         """The numbers of the unit and the function that a use names."""

@@ -143,13 +143,13 @@ class BodyReader:
         uses = [found for found in calls if found.unit == name]
         sign = self.cursor.take((["("] if owns else []) + (["."] if uses else []))
         called = owns[0] if sign == "(" else self.read_used(uses)
-        args = []
+        passed = []
         for way, kind in called.ways:
-            if args:
+            if passed:
                 self.cursor.take([","])
-            args.append(self.read_arg(way, kind, MOST_NODES_DEEP - depth))
+            passed.append(self.read_arg(way, kind, MOST_NODES_DEEP - depth))
         self.cursor.take([")"])
-        return "call", target, called.callee, tuple(args)
+        return "call", target, called.callee, tuple(passed)
 
     def read_used(self, uses):
         """The one of the uses whose function is named, up to the bracket behind it."""

@@ -17,13 +17,13 @@ class Area:
 class Frame:
     """A call that is not over. An address is a pair (area, offset)."""
 
-    def __init__(self, unit, f, blocks, slots, args):
+    def __init__(self, unit, f, blocks, slots, passed):
         self.unit = unit
         self.f = f
         self.blocks = blocks
         self.slots = [Area([None] * words) for words in slots]
         self.temps = {}
-        for temp, arg in enumerate(args):
+        for temp, arg in enumerate(passed):
             self.temps[temp] = arg
         # the block where the call stands, and the step that is next; none is begun yet at -1
         self.block = 0
@@ -101,11 +101,11 @@ class RowRun:
         """The triples (unit, f, block) of the blocks begun, in order."""
         return list(self.begun)
 
-    def _begin(self, place, args):
+    def _begin(self, place, passed):
         """Begins a call of the code at a place with these numbers and addresses."""
         unit, f = place
         code = self.all_rows[unit][5][f]
-        self.opened.append(Frame(unit, f, code[4], code[3], args))
+        self.opened.append(Frame(unit, f, code[4], code[3], passed))
 
     def _go_on(self, call):
         """Begins a block, or does a step or ending; it makes one item at most."""
@@ -115,7 +115,7 @@ class RowRun:
             name = self.all_rows[call.unit][1]
             self.begun.append((name, call.f, call.block))
             if label is not None:
-                self.tape.add(("label", name, label), None)
+                self.tape.make(("label", name, label), None)
         elif call.at < len(steps):
             call.at += 1
             self._do_step(call, steps[call.at - 1])
@@ -141,7 +141,8 @@ class RowRun:
         elif word == "load" or word == "save":
             self._move(call, step)
         elif word == "clear":
-            call.slots[step[1]].words = [0] * len(call.slots[step[1]].words)
+            area = call.slots[step[1]]
+            area.words = [0] * len(area.words)
         elif word == "check":
             if call.temps[step[1]] >= step[2]:
                 self.tape.fail("bounds", self._station(call, step[3]))
@@ -149,7 +150,7 @@ class RowRun:
             if call.temps[step[1]] == 0:
                 self.tape.fail("zero", self._station(call, step[2]))
         elif word == "show":
-            self.tape.add(("shown", step[1], call.temps[step[2]]), self._station(call, step[3]))
+            self.tape.make(("shown", step[1], call.temps[step[2]]), self._station(call, step[3]))
         else:
             call.temps[step[1]] = self.tape.ask(self._station(call, step[2])) % self.tape.size
 
@@ -181,13 +182,13 @@ class RowRun:
         elif word == "fail":
             self.tape.fail(ending[1], self._station(call, ending[2]))
         elif word == "call":
-            args = [call.temps[temp] for temp in ending[3]]
-            self._begin(code_called(self.all_rows, call.unit, ending[2]), args)
+            passed = [call.temps[temp] for temp in ending[3]]
+            self._begin(code_called(self.all_rows, call.unit, ending[2]), passed)
         elif word == "last":
-            args = [call.temps[temp] for temp in ending[2]]
+            passed = [call.temps[temp] for temp in ending[2]]
             call.lose_slots()
             self.opened.pop()
-            self._begin(code_called(self.all_rows, call.unit, ending[1]), args)
+            self._begin(code_called(self.all_rows, call.unit, ending[1]), passed)
         else:
             self._give(call, ending[1])
 

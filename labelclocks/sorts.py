@@ -1,8 +1,6 @@
 """Which temps of a code hold worths and which ones addresses."""
 
-from labelclocks.steps import (
-    FORMS, OF_ADDRESS, OF_WORTH, TO_ADDRESS, TO_WORTH, code_head, temp_given_last, temps_read_last,
-)
+from labelclocks.steps import FORMS, code_head, temp_given_last, temps_read_last
 
 
 class Groups:
@@ -18,7 +16,7 @@ class Groups:
             member = self.above[member]
         return member
 
-    def join(self, one, other):
+    def unite(self, one, other):
         """Makes one group of two."""
         low = self.head(one)
         high = self.head(other)
@@ -35,7 +33,7 @@ def has_sorts(rows, code):
     """Whether each temp of a code of rows, whose steps and endings have their form, has one sort."""
     groups = Groups()
     for at, (way, _) in enumerate(code[1]):
-        groups.join(at, sort_of_way(way))
+        groups.unite(at, sort_of_way(way))
     for _, steps, ending in code[4]:
         for step in steps:
             _join_step(groups, step)
@@ -50,23 +48,23 @@ def sort_of_way(way):
 
 def _join_step(groups, step):
     if step[0] == "copy":
-        groups.join(step[1], step[2])
+        groups.unite(step[1], step[2])
         return
     for at, told in enumerate(FORMS[step[0]]):
-        if told == TO_WORTH or told == OF_WORTH:
-            groups.join(step[at + 1], "worth")
-        elif told == TO_ADDRESS or told == OF_ADDRESS:
-            groups.join(step[at + 1], "address")
+        if told in ("to worth", "of worth"):
+            groups.unite(step[at + 1], "worth")
+        elif told in ("to address", "of address"):
+            groups.unite(step[at + 1], "address")
 
 
 def _join_ending(groups, rows, code, ending):
     if temp_given_last(ending) is not None:
-        groups.join(temp_given_last(ending), "worth")
+        groups.unite(temp_given_last(ending), "worth")
     if ending[0] == "call" or ending[0] == "last":
         callee = ending[2] if ending[0] == "call" else ending[1]
         ways = code_head(rows, callee)[0]
         for (way, _), arg in zip(ways, temps_read_last(ending)):
-            groups.join(arg, sort_of_way(way))
+            groups.unite(arg, sort_of_way(way))
         return
     for temp in temps_read_last(ending):
-        groups.join(temp, "worth")
+        groups.unite(temp, "worth")

@@ -125,13 +125,13 @@ class Coder:
 
     def add_call(self, statement):
         """The orders of a call."""
-        _, target, callee, args = statement
+        _, target, callee, passed = statement
         back = self.new_label(self.rounds)
         # the target is read first, but worked out last
         told = [] if target is None else self.address(target)[0] + [("result",), ("put",)]
-        for arg in args:
+        for arg in passed:
             self.orders.extend(self.arg(arg))
-        self.orders.append(("call", callee, len(args), back))
+        self.orders.append(("call", callee, len(passed), back))
         self.orders.append(("label", back))
         self.orders.extend(told)
 

@@ -4,37 +4,31 @@ The form of a step tells for each item of its tuple behind the word what stands 
 ("to ..") or reads ("of .."), a worth or an address or, in a copy, either; or another value.
 """
 
-TO_WORTH = "to worth"
-TO_ADDRESS = "to address"
-TO_EITHER = "to either"
-OF_WORTH = "of worth"
-OF_ADDRESS = "of address"
-OF_EITHER = "of either"
-GIVEN = (TO_WORTH, TO_ADDRESS, TO_EITHER)
-READ = (OF_WORTH, OF_ADDRESS, OF_EITHER)
+GIVEN = ("to worth", "to address", "to either")
+READ = ("of worth", "of address", "of either")
 FORMS = {
-    "const": (TO_WORTH, "number"),
-    "copy": (TO_EITHER, OF_EITHER),
-    "not": (TO_WORTH, OF_WORTH),
-    "plus": (TO_WORTH, OF_WORTH, OF_WORTH),
-    "minus": (TO_WORTH, OF_WORTH, OF_WORTH),
-    "times": (TO_WORTH, OF_WORTH, OF_WORTH),
-    "over": (TO_WORTH, OF_WORTH, OF_WORTH),
-    "rest": (TO_WORTH, OF_WORTH, OF_WORTH),
-    "less": (TO_WORTH, OF_WORTH, OF_WORTH),
-    "same": (TO_WORTH, OF_WORTH, OF_WORTH),
-    "and": (TO_WORTH, OF_WORTH, OF_WORTH),
-    "or": (TO_WORTH, OF_WORTH, OF_WORTH),
-    "base": (TO_ADDRESS, "area"),
-    "offset": (TO_ADDRESS, OF_ADDRESS, "offset"),
-    "index": (TO_ADDRESS, OF_ADDRESS, OF_WORTH, "words", "offset"),
-    "load": (TO_WORTH, OF_ADDRESS),
-    "save": (OF_ADDRESS, OF_WORTH),
+    "const": ("to worth", "number"),
+    "copy": ("to either", "of either"),
+    "not": ("to worth", "of worth"),
+    "plus": ("to worth", "of worth", "of worth"),
+    "minus": ("to worth", "of worth", "of worth"),
+    "times": ("to worth", "of worth", "of worth"),
+    "over": ("to worth", "of worth", "of worth"),
+    "rest": ("to worth", "of worth", "of worth"),
+    "less": ("to worth", "of worth", "of worth"),
+    "same": ("to worth", "of worth", "of worth"),
+    "and": ("to worth", "of worth", "of worth"),
+    "or": ("to worth", "of worth", "of worth"),
+    "base": ("to address", "area"),
+    "offset": ("to address", "of address", "offset"),
+    "index": ("to address", "of address", "of worth", "words", "offset"),
+    "load": ("to worth", "of address"),
+    "save": ("of address", "of worth"),
     "clear": ("slot",),
-    "check": (OF_WORTH, "many", "station"),
-    "divisor": (OF_WORTH, "station"),
-    "show": ("port", OF_WORTH, "station"),
-    "ask": (TO_WORTH, "station"),
+    "check": ("of worth", "many", "station"),
+    "divisor": ("of worth", "station"),
+    "show": ("port", "of worth", "station"),
+    "ask": ("to worth", "station"),
 }
 
 

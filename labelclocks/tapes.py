@@ -40,19 +40,19 @@ class Tape:
         """Whether the run has to go on to have so many items."""
         return self.mode == RUNNING and len(self.row) < bound
 
-    def add(self, item, station):
+    def make(self, item, station):
         """A further item."""
         self.row.append(item)
         self.marks.append(station)
 
     def end(self):
         """The item at the end of a run."""
-        self.add(("end",), None)
+        self.make(("end",), None)
         self.mode = ENDED
 
     def fail(self, why, station):
         """The item of a run that fails."""
-        self.add(("failed", why), station)
+        self.make(("failed", why), station)
         self.mode = FAILED
 
     def ask(self, station):
@@ -61,7 +61,7 @@ class Tape:
         if self.asked < len(self.inputs):
             told = self.inputs[self.asked]
             self.asked += 1
-        self.add(("asked", told % self.size), station)
+        self.make(("asked", told % self.size), station)
         return told
 
     def left(self):

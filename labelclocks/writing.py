@@ -130,7 +130,7 @@ class Pen:
 
     def write_call(self, path, statement):
         """Writes a call, with its target."""
-        _, target, callee, args = statement
+        _, target, callee, passed = statement
         if target is not None:
             self.write_node(path + (1,), target)
             self.write(" = ")
@@ -139,7 +139,7 @@ class Pen:
         else:
             use = self.unit[2][callee[1]]
             self.write(f"call {use[0]}.{use[1]}(")
-        for at, arg in enumerate(args):
+        for at, arg in enumerate(passed):
             self.write(", " if at > 0 else "")
             self.write_node(path + (3, at), arg)
         self.write(")")

@@ -1,0 +1,156 @@
+"""[3] to [7], asked of all functions that stand here so far."""
+
+import copy
+import unittest
+
+from labelclocks import codelabels, given, kinds, lines, loose, meaning, readtexts, rownames, rowroads, rowruns, rows
+from labelclocks import sourceroads, texts, units
+from labelclocks.errors import (
+    BadFunction, BadInputs, BadKind, BadLabels, BadPath, BadProgram, BadRows, BadText, BadTrail, BadUnit, ClockError,
+)
+from tests.checks import ODD_VALUES, nested
+from tests.lower import lower
+from tests.test_meaning import EXAMPLE
+
+PROGRAM = readtexts.program_of(EXAMPLE)
+UNIT = PROGRAM[0]
+ROWS = lower(UNIT)
+KIND = ("row", 2, ("record", (("a", "number"), ("b", "truth"))))
+LABEL = (0, 1, (("at", 0, 1),))
+JUDGES = (
+    codelabels.is_code_label, codelabels.is_station, kinds.is_name, kinds.is_plain, kinds.is_kind, units.is_unit,
+    units.is_program, sourceroads.is_road_book, loose.is_loose, rows.is_rows)
+# a function, right values for its parameters, and the error of each of these
+ASKED = (
+    (kinds.words_of, [KIND], [BadKind]),
+    (kinds.trails, [KIND], [BadKind]),
+    (kinds.inner_kind, [KIND, (1,)], [BadKind, BadTrail]),
+    (kinds.offset_of, [KIND, (1,)], [BadKind, BadTrail]),
+    (units.labels_of, [UNIT, 0], [BadUnit, BadFunction]),
+    (units.stations_of, [UNIT, 0], [BadUnit, BadFunction]),
+    (lines.tokens_of, [EXAMPLE], [BadText]),
+    (texts.kind_text, [KIND], [BadKind]),
+    (texts.unit_text, [UNIT], [BadUnit]),
+    (texts.program_text, [PROGRAM], [BadProgram]),
+    (texts.spot_of, [UNIT, 0, (0,)], [BadUnit, BadFunction, BadPath]),
+    (texts.label_spots, [UNIT, 0], [BadUnit, BadFunction]),
+    (readtexts.kind_of, ["row 2 number"], [BadText]),
+    (readtexts.unit_of, [EXAMPLE], [BadText]),
+    (readtexts.program_of, [EXAMPLE], [BadText]),
+    (readtexts.completed, [EXAMPLE], [BadText]),
+    (readtexts.completed_unit, [EXAMPLE], [BadText]),
+    (meaning.Run, [PROGRAM, [1]], [BadProgram, BadInputs]),
+    (sourceroads.road_book, [UNIT], [BadUnit]),
+    (sourceroads.follows, [PROGRAM, [("u", 0, 0)]], [BadProgram, BadLabels]),
+    (given.unmarked, [ROWS, 0], [BadRows, BadFunction]),
+    (given.lacking, [ROWS, 0], [BadRows, BadFunction]),
+    (rowruns.RowRun, [[ROWS], [1]], [BadRows, BadInputs]),
+    (rowroads.blocks_of, [[ROWS], [("u", (0, 0, ()))]], [BadRows, BadLabels]),
+    (rownames.names_held, [UNIT, 0], [BadUnit, BadFunction]),
+)
+LISTS = (meaning.Run, sourceroads.follows, rowruns.RowRun, rowroads.blocks_of)
+
+
+def answer_of(function, passed):
+    """What a function answers; of a run what it tells after some items."""
+    answer = function(*passed)
+    if function in (meaning.Run, rowruns.RowRun):
+        answer.go(5)
+        return [answer.trace(), answer.stations(), answer.left(), answer.frames()]
+    return answer
+
+
+class ConventionsTest(unittest.TestCase):
+
+    def test_parameters_are_checked_from_left_to_right(self):
+        for function, right, errors in ASKED:
+            for at, error in enumerate(errors):
+                passed = right[:at] + [None] * (len(right) - at)
+                with self.assertRaises(error, msg=function.__name__):
+                    function(*passed)
+
+    def test_any_value_is_judged(self):
+        odd = ODD_VALUES + (nested(1, 40), [nested((), 39)], {"x": nested("x", 38)}, meaning.Run(PROGRAM, []))
+        for judge in JUDGES:
+            for value in odd:
+                self.assertIs(type(judge(value)), bool, judge.__name__)
+        for function, right, errors in ASKED:
+            for at, error in enumerate(errors):
+                for value in odd:
+                    passed = right[:at] + [value] + right[at + 1:]
+                    if value in ([], ()) and (error is BadInputs or error is BadLabels or error is BadTrail):
+                        continue
+                    if isinstance(value, int) and not isinstance(value, bool) and error is BadFunction:
+                        continue
+                    if isinstance(value, str) and error in (BadText, BadKind):
+                        continue
+                    if value == [1] or value == (1,):
+                        continue
+                    with self.assertRaises(error, msg=f"{function.__name__} {value}"):
+                        function(*passed)
+
+    def test_true_and_false_are_no_wholes(self):
+        self.assertRaises(BadFunction, units.labels_of, UNIT, False)
+        self.assertRaises(BadTrail, kinds.inner_kind, KIND, (True,))
+        self.assertRaises(BadPath, texts.spot_of, UNIT, 0, (False,))
+        self.assertRaises(BadInputs, meaning.Run, PROGRAM, [True])
+        self.assertRaises(BadLabels, sourceroads.follows, PROGRAM, [("u", 0, False)])
+        self.assertRaises(BadLabels, rowroads.blocks_of, [ROWS], [("u", (False, 0, ()))])
+        self.assertFalse(kinds.is_kind(("row", True, "number")))
+        self.assertFalse(codelabels.is_station((False, 0)))
+
+    def changed(self, value):
+        """All values that have a list in the place of one tuple of this one."""
+        if isinstance(value, tuple):
+            yield list(value)
+            for at, part in enumerate(value):
+                for told in self.changed(part):
+                    yield value[:at] + (told,) + value[at + 1:]
+
+    def test_a_list_where_a_tuple_is_expected(self):
+        book = sourceroads.road_book(UNIT)
+        right = (
+            (kinds.is_kind, KIND), (codelabels.is_code_label, LABEL), (codelabels.is_station, (0, 1)),
+            (units.is_unit, UNIT), (units.is_program, PROGRAM), (sourceroads.is_road_book, book), (loose.is_loose, ROWS),
+            (rows.is_rows, ROWS))
+        for judge, value in right:
+            self.assertIs(judge(value), True)
+            for told in self.changed(value):
+                self.assertIs(judge(told), False, told)
+
+    def test_a_tuple_where_a_list_is_expected(self):
+        for function, right, _ in ASKED:
+            told = [tuple(value) if isinstance(value, list) else value for value in right]
+            self.assertEqual(answer_of(function, told), answer_of(function, right))
+
+    def test_what_was_returned_may_be_changed(self):
+        for function, right, _ in ASKED:
+            answer = answer_of(function, right)
+            before = copy.deepcopy(answer)
+            if isinstance(answer, (list, dict)):
+                answer.clear()
+            self.assertEqual(answer_of(function, right), before)
+
+    def test_what_is_passed_in_is_not_changed(self):
+        for function, right, _ in ASKED:
+            before = copy.deepcopy(right)
+            answer_of(function, right)
+            self.assertEqual(right, before)
+
+    def test_equal_arguments_give_equal_results(self):
+        for function, right, _ in ASKED:
+            self.assertEqual(answer_of(function, copy.deepcopy(right)), answer_of(function, right))
+
+    def test_all_errors_are_clock_errors_and_value_errors(self):
+        for function, right, _ in ASKED:
+            for kind in (ClockError, ValueError):
+                self.assertRaises(kind, function, *[None] * len(right))
+
+    def test_limits(self):
+        self.assertEqual(len(lines.tokens_of("a " * 10000)), 10002)
+        self.assertEqual(len(lines.tokens_of("\n" * 20000)), 1)
+        self.assertRaises(BadText, readtexts.program_of, "(" * 20000)
+        self.assertTrue(readtexts.program_of(readtexts.completed("(" * 20000)))
+        for judge in JUDGES:
+            for value in ("a" * 20000, (None,) * 100000, [0] * 100000, 10 ** 99, -10 ** 99):
+                self.assertIs(judge(value), False)
