@@ -216,13 +216,13 @@ class EndingsTest(LooseTest):
             ("call", 1, ("own", 1), (2, 3), None), ("call", 1, ("own", 1), (2, 3)), ("call", 1, ["own", 1], (2, 3), 1),
             ("call", 1, ("by", 1), (2, 3), 1), ("call", 1, None, (2, 3), 1), ("call", 1, ("own",), (2, 3), 1),
             ("call", 10000, ("own", 1), (2, 3), 1), ("call", True, ("own", 1), (2, 3), 1), ("call", 1, ("own", None), (), 1),
-            ("call", None, ("own", 1), None, 1))
+            ("call", None, ("own", 1), None, 1), ("call", None, ("own", -1), (), 1), ("call", None, ("use", -1), (), 1))
         self.ends(right, wrong)
 
     def test_last_calls(self):
         self.ends((("last", ("own", 2), ()), ("last", ("use", 1), ()), ("last", ("own", 0), ())), (
             ("last", ("own", 1), (2, 3)), ("last", ("use", 0), (2, 3)), ("last", ("own", 3), ()), ("last", ("own", 2), (1,)),
-            ("last", ("own", 2), []), ("last", ("own", 2)), ("last", ("own", 2), (), 1), ("last", None, ())))
+            ("last", ("own", 2), []), ("last", ("own", 2)), ("last", ("own", 2), (), 1), ("last", None, ()), ("last", ("own", -1), ())))
         self.ends((("last", ("own", 1), (2, 3)),), (
             ("last", ("own", 2), ()), ("last", ("use", 0), (2, 3))), result="number")
         self.ends((("last", ("use", 0), (2, 3)),), (("last", ("own", 1), (2, 3)),), result="truth")

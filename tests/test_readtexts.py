@@ -478,6 +478,26 @@ class StatementsTest(Asked):
         self.deep(6, "x = s[0].a", None)
         self.deep(7, "x = s[0].a", 5)
 
+    def test_gives_with_a_result(self):
+        ahead = "unit u size 10\nfunction f() number\nbody f\n"
+        for depth, column in ((10, 1), (9, None), (8, None)):
+            lines = ["  " * at + "while yes" for at in range(1, depth)] + ["  " * depth + "give 1"]
+            told = None if column is None else (3 + depth, 2 * depth + column)
+            self.assertEqual(wrong_spot(unit_of, ahead + "\n".join(lines)), told)
+
+    def test_parts_of_parts_that_lie_too_deep(self):
+        ahead = "unit u size 10\nstore r record(a number, b record(c number, d record(e number)))\nfunction f()\nbody f\n"
+        right = {8: ("ask r.a", "r.a = 1", "show 1 1"), 7: ("ask r.b.c", "r.a = r.a"), 6: ("ask r.b.d.e", "r.a = r.b.c"),
+                 5: ("r.b.d.e = r.b.d.e",)}
+        wrong = {8: (("ask r.b.c", 7), ("r.b.c = 1", 3), ("r.a = r.a", 7)), 7: (("ask r.b.d.e", 9), ("r.a = r.b.c", 9)),
+                 6: (("r.a = r.b.d.e", 11),)}
+        for depth in (5, 6, 7, 8):
+            nest = "".join("  " * at + "while yes\n" for at in range(1, depth)) + "  " * depth
+            for line in right[depth]:
+                self.is_right(unit_of, ahead + nest + line)
+            for line, column in wrong.get(depth, ()):
+                self.is_wrong(unit_of, ahead + nest + line, 4 + depth, 2 * depth + column)
+
     def test_parts_that_lie_too_deep_behind_an_index(self):
         ahead = "unit u size 10\nstore g row 2 record(a number, b record(c truth, d number))\nfunction f()\nbody f\n"
         nest = "".join("  " * at + "while yes\n" for at in range(1, 5))

@@ -465,6 +465,15 @@ class RoadsTest(unittest.TestCase):
             blocks_of([main()], [labels[0], labels[0]])
         self.assertEqual(caught.exception.index, 1)
 
+    def test_a_fail_in_a_call_ends_the_road(self):
+        f = code("f", (0, ("fail", 1, S)))
+        rows = rows_of(code("main", (0, ("call", None, ("own", 1), (), 1)), (1, GIVE)), f)
+        labels = [("u", (0, 0, ())), ("u", (1, 0, ())), ("u", (0, 1, ()))]
+        self.assertEqual(blocks_of([rows], labels[:2]), [("u", 0, 0), ("u", 1, 0)])
+        with self.assertRaises(BadLabels) as caught:
+            blocks_of([rows], labels)
+        self.assertEqual(caught.exception.index, 2)
+
     def test_no_lists(self):
         for labels in (None, 1, "u", {}, {("u", (0, 0, ())): 1}):
             with self.assertRaises(BadLabels) as caught:

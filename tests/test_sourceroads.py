@@ -169,7 +169,7 @@ class BooksTest(unittest.TestCase):
                 ("call", ("use", -1), 0), ("call", ("own", 0), 3), ("call", ("own", 0), -1), ("call", ("own", 0), True),
                 ("call", ["own", 0], 0), ("call", ("own",), 0), ("call", ("own", 0, 0), 0), ("call", None, 0),
                 ("call", ("by", 0), 0), ("call", ("own", 0)), ("call", ("own", 0), 0, 0), ("call", ("own", None), 0),
-                ("jump", 0, 1), (None, 0, 1), ("call", ("own", 0), None)):
+                ("jump", 0, 1), ("jump", ("own", 0), 0), (None, ("own", 0), 0), (None, 0, 1), ("call", ("own", 0), None)):
             self.wrong(ending=ending)
 
     def test_loops(self):
@@ -236,6 +236,10 @@ class FollowsTest(unittest.TestCase):
         self.assertEqual(follows(program, [("u", 0, 0), ("u", 0, 1)]), [])
         self.assertEqual(follows(program, [("u", 0, 0), ("u", 0, 2)]), [])
         self.bad(program, [("u", 0, 0), ("u", 0, 1), ("u", 0, 0)], 2)
+        # a fail within a call goes back to nothing
+        program = program_of("unit u size 10\nfunction main()\nfunction f()\nbody main\n  call f()\nbody f\n  fail 1")
+        self.assertEqual(follows(program, [("u", 0, 0), ("u", 1, 0)]), [])
+        self.bad(program, [("u", 0, 0), ("u", 1, 0), ("u", 0, 1)], 2)
 
     def test_calls_within_calls_and_other_units(self):
         program = program_of(

@@ -177,7 +177,8 @@ class StatementsTest(unittest.TestCase):
 
     def test_give(self):
         self.assertTrue(is_body(("give", None)))
-        self.assertFalse(is_body(("give", N)))
+        for told in (N, ("number", 99), 5, X, ("read", ("name", "y"))):
+            self.assertFalse(is_body(("give", told)))
         self.assertTrue(is_body(("give", N), result="number"))
         self.assertTrue(is_body(("give", YES), result="truth"))
         self.assertFalse(is_body(("give", None), result="number"))
@@ -204,6 +205,8 @@ class StatementsTest(unittest.TestCase):
         self.assertFalse(is_body(("call", X, ("own", 2), ())))
         self.assertFalse(is_body(("call", rec, ("use", 2), ())))
         self.assertFalse(is_body(("call", 0, ("use", 2), ())))
+        for target in (("name", "y"), ("field", X, "a"), 0):
+            self.assertFalse(is_body(("call", target, ("own", 2), ())))
 
     def test_args(self):
         rec = ("name", "rec")
@@ -310,11 +313,27 @@ class BoundsTest(unittest.TestCase):
             body = (("if", YES, (), body),)
             self.assertEqual(is_body(*body), deep <= 10, deep)
 
+    def in_whiles(self, statement, depth):
+        """A body in which the statement stands at this depth."""
+        body = (statement,)
+        for _ in range(depth - 1):
+            body = (("while", YES, body),)
+        return body
+
     def test_deep_expressions(self):
         expression = N
         for deep in range(3, 14):
             expression = ("plus", N, expression)
             self.assertEqual(is_body(("show", 0, expression)), deep <= 10, deep)
+        expression = YES
+        for deep in range(3, 14):
+            expression = ("not", expression)
+            self.assertEqual(is_body(("while", expression, ())), deep <= 10, deep)
+        place = ("item", ("item", ("name", "grid"), N), N)
+        for deep in range(1, 10):
+            self.assertEqual(is_body(*self.in_whiles(("ask", place), deep)), deep <= 7, deep)
+            self.assertEqual(is_body(*self.in_whiles(("show", 0, read(place)), deep)), deep <= 6, deep)
+            self.assertEqual(is_body(*self.in_whiles(("call", None, ("own", 1), (N, ("name", "rec"))), deep)), deep <= 9, deep)
         expression = read(X)
         for deep in range(4, 14):
             expression = ("plus", expression, N)
