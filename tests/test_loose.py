@@ -216,7 +216,8 @@ class EndingsTest(LooseTest):
             ("call", 1, ("own", 1), (2, 3), None), ("call", 1, ("own", 1), (2, 3)), ("call", 1, ["own", 1], (2, 3), 1),
             ("call", 1, ("by", 1), (2, 3), 1), ("call", 1, None, (2, 3), 1), ("call", 1, ("own",), (2, 3), 1),
             ("call", 10000, ("own", 1), (2, 3), 1), ("call", True, ("own", 1), (2, 3), 1), ("call", 1, ("own", None), (), 1),
-            ("call", None, ("own", 1), None, 1), ("call", None, ("own", -1), (), 1), ("call", None, ("use", -1), (), 1))
+            ("call", None, ("own", 1), None, 1), ("call", None, ("own", -1), (), 1), ("call", None, ("use", -1), (), 1),
+            ("call", None, ("by", 1), (), 1))
         self.ends(right, wrong)
 
     def test_last_calls(self):

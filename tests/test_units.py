@@ -329,6 +329,10 @@ class BoundsTest(unittest.TestCase):
         for deep in range(3, 14):
             expression = ("not", expression)
             self.assertEqual(is_body(("while", expression, ())), deep <= 10, deep)
+        index = N
+        for deep in range(3, 13):
+            self.assertEqual(is_body(("call", None, ("own", 1), (N, ("item", ("name", "s"), index)))), deep <= 10, deep)
+            index = ("plus", N, index)
         place = ("item", ("item", ("name", "grid"), N), N)
         for deep in range(1, 10):
             self.assertEqual(is_body(*self.in_whiles(("ask", place), deep)), deep <= 7, deep)
