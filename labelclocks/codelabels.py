@@ -13,7 +13,7 @@ def is_code_label(value):
     if not is_tuple_of(value, 3) or not is_station(value[:2]):
         return False
     way = value[2]
-    return is_tuple_within(way, 0, MOST_MARKS) and all([_is_mark(mark) for mark in way])
+    return is_tuple_within(way, 0, MOST_MARKS) and all([is_mark(mark) for mark in way])
 
 
 def is_station(value):
@@ -21,5 +21,6 @@ def is_station(value):
     return is_tuple_of(value, 2) and is_within(value[0], 0, MOST_FUNCTION) and is_within(value[1], 0, MOST_NUMBER)
 
 
-def _is_mark(value):
+def is_mark(value):
+    """Whether any value is a mark of a way."""
     return is_tuple_of(value, 3) and value[0] in MARKS and is_station(value[1:])

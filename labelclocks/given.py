@@ -108,7 +108,7 @@ def _road_without(code, temp, wants, gifts):
     while waiting:
         block = waiting.pop()
         if temp in wants[block]:
-            return _road_to(block, ahead)
+            return road_to(block, ahead)
         if temp not in gifts[block]:
             for goal in goals_of(code[4][block][2]):
                 if goal not in ahead:
@@ -117,7 +117,7 @@ def _road_without(code, temp, wants, gifts):
     return None
 
 
-def _road_to(block, ahead):
+def road_to(block, ahead):
     """The road to a block, by the blocks ahead."""
     road = []
     while block is not None:

@@ -25,7 +25,7 @@ def is_loose(value):
     """Whether any value has the form of rows."""
     if not is_tuple_of(value, 6) or value[0] != "rows" or not is_name(value[1]) or not is_size(value[2]):
         return False
-    if not are_uses(value[3], value[1]) or not _are_stores(value[4]):
+    if not are_uses(value[3], value[1]) or not are_store_words(value[4]):
         return False
     if not is_tuple_within(value[5], 1, MOST_CODES) or not all([_is_head(code) for code in value[5]]):
         return False
@@ -37,7 +37,8 @@ def is_loose(value):
     return True
 
 
-def _are_stores(value):
+def are_store_words(value):
+    """Whether value is a tuple of pairs (name, words), as rows have them for stores."""
     if not is_tuple_within(value, 0, MOST_STORES):
         return False
     for store in value:

@@ -50,7 +50,7 @@ class BodyReader:
 
     def __init__(self, cursor, reach):
         self.cursor = cursor
-        self.reach = reach
+        self.in_reach = reach
 
     def read_body(self, depth, looped, is_owed):
         """The statements of one depth; one at least if it is owed."""
@@ -68,13 +68,13 @@ class BodyReader:
             rights.extend(["if", "while", "show"])
         if looped:
             rights.extend(["break", "again"])
-        if height > 0 or self.reach.result is None:
+        if height > 0 or self.in_reach.result is None:
             rights.append("give")
-        if self.reach.names_with(["number"], height):
+        if self.in_reach.names_with(["number"], height):
             rights.append("ask")
-        if self.reach.calls_at(depth, ANY_RESULT):
+        if self.in_reach.calls_at(depth, ANY_RESULT):
             rights.append("call")
-        return rights + self.reach.names_with(EITHER, height)
+        return rights + self.in_reach.names_with(EITHER, height)
 
     def read_statement(self, depth, looped):
         """A statement with all its lines."""
@@ -90,7 +90,7 @@ class BodyReader:
 
     def read_test(self, depth):
         """A test up to the end of its line."""
-        test, _ = read_expression(self.cursor, self.reach, ["truth"], MOST_NODES_DEEP - depth)
+        test, _ = read_expression(self.cursor, self.in_reach, ["truth"], MOST_NODES_DEEP - depth)
         self.cursor.take([END_OF_LINE])
         return test
 
@@ -114,30 +114,30 @@ class BodyReader:
             return word, self.cursor.take_whole(0, MOST_FAIL)
         if word == "show":
             port = self.cursor.take_whole(0, MOST_PORT)
-            return word, port, read_expression(self.cursor, self.reach, ["number"], height)[0]
+            return word, port, read_expression(self.cursor, self.in_reach, ["number"], height)[0]
         if word == "give":
-            if self.reach.result is None:
+            if self.in_reach.result is None:
                 return word, None
-            return word, read_expression(self.cursor, self.reach, [self.reach.result], height)[0]
+            return word, read_expression(self.cursor, self.in_reach, [self.in_reach.result], height)[0]
         if word == "ask":
             return word, self.read_named_place(["number"], height)
         if word == "call":
             return self.read_call(None, depth, ANY_RESULT)
-        place, kind = read_place(self.cursor, self.reach, word, EITHER, height)
+        place, kind = read_place(self.cursor, self.in_reach, word, EITHER, height)
         self.cursor.take(["="])
-        if self.cursor.tells("call") and self.reach.calls_at(depth, [kind]):
+        if self.cursor.tells("call") and self.in_reach.calls_at(depth, [kind]):
             self.cursor.take(["call"])
             return self.read_call(place, depth, [kind])
-        return "put", place, read_expression(self.cursor, self.reach, [kind], height)[0]
+        return "put", place, read_expression(self.cursor, self.in_reach, [kind], height)[0]
 
     def read_named_place(self, wanted, height):
         """A place with its name."""
-        name = self.cursor.take(self.reach.names_with(wanted, height))
-        return read_place(self.cursor, self.reach, name, wanted, height)[0]
+        name = self.cursor.take(self.in_reach.names_with(wanted, height))
+        return read_place(self.cursor, self.in_reach, name, wanted, height)[0]
 
     def read_call(self, target, depth, results):
         """A call behind its word."""
-        calls = self.reach.calls_at(depth, results)
+        calls = self.in_reach.calls_at(depth, results)
         name = self.cursor.take([found.function if found.unit is None else found.unit for found in calls])
         owns = [found for found in calls if found.unit is None and found.function == name]
         uses = [found for found in calls if found.unit == name]
@@ -161,4 +161,4 @@ class BodyReader:
         """An arg for a param of this way and kind."""
         if way == "place":
             return self.read_named_place([kind], height)
-        return read_expression(self.cursor, self.reach, [kind], height)[0]
+        return read_expression(self.cursor, self.in_reach, [kind], height)[0]

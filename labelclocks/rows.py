@@ -1,9 +1,11 @@
 """Judges rows of blocks."""
 
+from labelclocks.blocks import goal_counts
+from labelclocks.errors import BadFunction, BadRows
 from labelclocks.given import lack_in, ring_in
 from labelclocks.loose import is_loose
 from labelclocks.steps import goals_of
-from labelclocks.values import has_doubles
+from labelclocks.values import has_doubles, is_whole
 
 
 def is_rows(value):
@@ -13,17 +15,14 @@ def is_rows(value):
     if has_doubles([block[0] for code in value[5] for block in code[4] if block[0] is not None]):
         return False
     for code in value[5]:
-        if not _are_goals_right(code) or ring_in(code) is not None or lack_in(code) is not None:
+        if not are_goals_right(code) or ring_in(code) is not None or lack_in(code) is not None:
             return False
     return True
 
 
-def _are_goals_right(code):
+def are_goals_right(code):
     """Whether block 0 and the goals of tests and calls have labels and are led to as they have to be."""
-    times = [0] * len(code[4])
-    for _, _, ending in code[4]:
-        for goal in goals_of(ending):
-            times[goal] += 1
+    times = goal_counts(code[4])
     if code[4][0][0] is None or times[0] > 0:
         return False
     for _, _, ending in code[4]:
@@ -32,3 +31,16 @@ def _are_goals_right(code):
                 if code[4][goal][0] is None or times[goal] > 1:
                     return False
     return True
+
+
+def need_rows(rows):
+    """Raises BadRows unless rows are rows."""
+    if not is_rows(rows):
+        raise BadRows("no rows")
+
+
+def need_code(rows, f):
+    """Raises BadRows, BadFunction unless f is the number of a code of rows."""
+    need_rows(rows)
+    if not is_whole(f) or not 0 <= f < len(rows[5]):
+        raise BadFunction("no number of a code")

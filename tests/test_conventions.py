@@ -3,10 +3,11 @@
 import copy
 import unittest
 
-from labelclocks import codelabels, given, kinds, lines, loose, meaning, readtexts, rownames, rowroads, rowruns, rows
-from labelclocks import sourceroads, texts, units
+from labelclocks import cells, codelabels, copying, folding, given, kinds, lines, liveness, loose, lowering, meaning
+from labelclocks import needing, passes, reading, readtexts, rownames, rowroads, rowruns, rows, sourceroads, texts, units
 from labelclocks.errors import (
-    BadFunction, BadInputs, BadKind, BadLabels, BadPath, BadProgram, BadRows, BadText, BadTrail, BadUnit, ClockError,
+    BadCell, BadFunction, BadInputs, BadKind, BadLabels, BadPasses, BadPath, BadProgram, BadReading, BadReadings, BadRoads,
+    BadRows, BadSpot, BadTemp, BadText, BadTop, BadTrail, BadUnit, BadWord, ClockError,
 )
 from tests.checks import ODD_VALUES, nested
 from tests.lower import lower
@@ -17,9 +18,22 @@ UNIT = PROGRAM[0]
 ROWS = lower(UNIT)
 KIND = ("row", 2, ("record", (("a", "number"), ("b", "truth"))))
 LABEL = (0, 1, (("at", 0, 1),))
+ROADS = sourceroads.road_book(UNIT)
+READING = (((0, 1, ()),), (LABEL,), ())
+READINGS = {"u": (READING, ROADS)}
+WORD = ("lay", LABEL)
+CELL = ("check", 1, 2, (0, 1))
+TOP = (0, (), (("first", 0, 1),))
+
+
+def is_some_cell(value):
+    return cells.is_cell(value, 10, 8, 20)
+
+
 JUDGES = (
     codelabels.is_code_label, codelabels.is_station, kinds.is_name, kinds.is_plain, kinds.is_kind, units.is_unit,
-    units.is_program, sourceroads.is_road_book, loose.is_loose, rows.is_rows)
+    units.is_program, sourceroads.is_road_book, loose.is_loose, rows.is_rows, reading.is_reading, passes.is_word,
+    is_some_cell)
 # a function, right values for its parameters, and the error of each of these
 ASKED = (
     (kinds.words_of, [KIND], [BadKind]),
@@ -47,8 +61,24 @@ ASKED = (
     (rowruns.RowRun, [[ROWS], [1]], [BadRows, BadInputs]),
     (rowroads.blocks_of, [[ROWS], [("u", (0, 0, ()))]], [BadRows, BadLabels]),
     (rownames.names_held, [UNIT, 0], [BadUnit, BadFunction]),
+    (lowering.lowered, [UNIT], [BadUnit]),
+    (folding.known, [ROWS, 0], [BadRows, BadFunction]),
+    (copying.sources, [ROWS, 0], [BadRows, BadFunction]),
+    (needing.needed, [ROWS, 0], [BadRows, BadFunction]),
+    (reading.read, [READINGS, [("u", 0, 0)]], [BadReadings, BadLabels]),
+    (reading.frames, [READINGS, [("u", 0, 0)]], [BadReadings, BadLabels]),
+    (reading.entered, [READINGS, "u", TOP, 0, 1], [BadReadings, BadTop, BadTop, BadTop, BadTop]),
+    (reading.turned, [READINGS, "u", TOP, 0], [BadReadings, BadTop, BadTop, BadTop]),
+    (passes.passed, [ROWS, ROADS, READING, ("fold",)], [BadRows, BadRoads, BadReading, BadWord]),
+    (passes.chosen, [UNIT, [("fold",)]], [BadUnit, BadPasses]),
+    (cells.read_registers, [CELL], [BadCell]),
+    (cells.written_register, [CELL], [BadCell]),
+    (liveness.alive_at, [ROWS, 0, 0, 0], [BadRows, BadFunction, BadSpot, BadSpot]),
+    (liveness.road_to_read, [ROWS, 0, 0, 0, 1], [BadRows, BadFunction, BadSpot, BadSpot, BadTemp]),
 )
-LISTS = (meaning.Run, sourceroads.follows, rowruns.RowRun, rowroads.blocks_of)
+# values that are right for some parameters with these errors
+LISTS_MAY_BE_EMPTY = (BadInputs, BadLabels, BadTrail, BadPasses)
+WHOLES_MAY_BE_RIGHT = (BadFunction, BadSpot, BadTemp, BadTop)
 
 
 def answer_of(function, passed):
@@ -78,9 +108,9 @@ class ConventionsTest(unittest.TestCase):
             for at, error in enumerate(errors):
                 for value in odd:
                     passed = right[:at] + [value] + right[at + 1:]
-                    if value in ([], ()) and (error is BadInputs or error is BadLabels or error is BadTrail):
+                    if value in ([], ()) and error in LISTS_MAY_BE_EMPTY or value == {} and error is BadReadings:
                         continue
-                    if isinstance(value, int) and not isinstance(value, bool) and error is BadFunction:
+                    if isinstance(value, int) and not isinstance(value, bool) and error in WHOLES_MAY_BE_RIGHT:
                         continue
                     if isinstance(value, str) and error in (BadText, BadKind):
                         continue
@@ -108,11 +138,10 @@ class ConventionsTest(unittest.TestCase):
                     yield value[:at] + (told,) + value[at + 1:]
 
     def test_a_list_where_a_tuple_is_expected(self):
-        book = sourceroads.road_book(UNIT)
         right = (
             (kinds.is_kind, KIND), (codelabels.is_code_label, LABEL), (codelabels.is_station, (0, 1)),
-            (units.is_unit, UNIT), (units.is_program, PROGRAM), (sourceroads.is_road_book, book), (loose.is_loose, ROWS),
-            (rows.is_rows, ROWS))
+            (units.is_unit, UNIT), (units.is_program, PROGRAM), (sourceroads.is_road_book, ROADS), (loose.is_loose, ROWS),
+            (rows.is_rows, ROWS), (reading.is_reading, READING), (passes.is_word, WORD), (is_some_cell, CELL))
         for judge, value in right:
             self.assertIs(judge(value), True)
             for told in self.changed(value):

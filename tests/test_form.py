@@ -39,6 +39,16 @@ INTERFACE = {
     "rowruns": [],
     "rowroads": ["blocks_of(all_rows, labels)"],
     "rownames": ["names_held(unit, f)"],
+    "lowering": ["lowered(unit)"],
+    "folding": ["known(rows, f)"],
+    "copying": ["sources(rows, f)"],
+    "needing": ["needed(rows, f)"],
+    "reading": [
+        "is_reading(value)", "read(readings, labels)", "frames(readings, labels)",
+        "entered(readings, unit, top, k, f)", "turned(readings, unit, top, k)"],
+    "passes": ["is_word(value)", "passed(rows, roads, reading, word)", "chosen(unit, words)"],
+    "cells": ["is_cell(value, size, registers, cells)", "read_registers(cell)", "written_register(cell)"],
+    "liveness": ["alive_at(rows, f, block, at)", "road_to_read(rows, f, block, at, temp)"],
 }
 CLASSES = {
     "meaning.Run(program, inputs)": [
@@ -277,6 +287,16 @@ class FormTest(unittest.TestCase):
                         if isinstance(part, ast.Attribute) and isinstance(part.ctx, ast.Store)
                         and isinstance(part.value, ast.Name) and part.value.id == "self"}
                     self.assertEqual(own & told, set(), f"{name}: {node.name}")
+
+    def test_no_name_is_a_method_and_an_attribute(self):
+        methods, attributes = set(), set()
+        for _, tree in self.trees:
+            for node in ast.walk(tree):
+                if isinstance(node, ast.ClassDef):
+                    methods.update(part.name for part in node.body if isinstance(part, ast.FunctionDef))
+                if isinstance(node, ast.Attribute) and isinstance(node.ctx, ast.Store):
+                    attributes.add(node.attr)
+        self.assertEqual(methods & attributes, set())
 
     def test_words(self):
         for name, text in self.files:
