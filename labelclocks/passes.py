@@ -19,10 +19,6 @@ from labelclocks.values import is_list, is_tuple_of
 MOST_PASSES = 40
 PLAIN_WORDS = ("fold", "copies", "dead", "twice", "thread", "last")
 LABEL_WORDS = ("lay", "peel")
-# the passes that leave the reading as it is
-STEP_PASSES = {
-    "fold": folded, "copies": copied, "dead": without_dead, "twice": without_twice, "thread": threaded,
-}
 
 
 def is_word(value):
@@ -52,8 +48,18 @@ def _passed(rows, roads, reading, word):
         return peeled_off(rows, roads, reading, word[1])
     if word[0] == "last":
         return called_last(rows, reading)
-    action = STEP_PASSES[word[0]]
-    return action(rows), reading
+    return _with_other_steps(rows, word[0]), reading
+
+
+def _with_other_steps(rows, word):
+    """The rows behind a pass that leaves the reading as it is."""
+    if word == "fold":
+        return folded(rows)
+    if word == "copies":
+        return copied(rows)
+    if word == "dead":
+        return without_dead(rows)
+    return without_twice(rows) if word == "twice" else threaded(rows)
 
 
 def need_words(words):

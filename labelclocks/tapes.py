@@ -67,3 +67,12 @@ class Tape:
     def left(self):
         """The inputs that were not asked."""
         return self.inputs[self.asked:]
+
+    def twin(self):
+        """A tape that tells the same, and goes its own way."""
+        other = Tape(self.inputs, self.size)
+        other.asked = self.asked
+        other.row = list(self.row)
+        other.marks = list(self.marks)
+        other.mode = self.mode
+        return other

@@ -3,13 +3,16 @@
 import copy
 import unittest
 
-from labelclocks import cells, codelabels, copying, folding, given, kinds, lines, liveness, loose, lowering, meaning
-from labelclocks import needing, passes, reading, readtexts, rownames, rowroads, rowruns, rows, sourceroads, texts, units
+from labelclocks import books, cells, clashes, codelabels, copying, folding, frames, given, images, judging, kinds, lines
+from labelclocks import liveness, loose, lowering, machine, meaning, needing, objects, ownpapers, passes, reading, readtexts
+from labelclocks import rownames, rowroads, rowruns, rows, sourceroads, texts, units
 from labelclocks.errors import (
-    BadCell, BadFunction, BadInputs, BadKind, BadLabels, BadPasses, BadPath, BadProgram, BadReading, BadReadings, BadRoads,
-    BadRows, BadSpot, BadTemp, BadText, BadTop, BadTrail, BadUnit, BadWord, ClockError,
+    BadBeats, BadBook, BadCell, BadFunction, BadImage, BadInputs, BadKind, BadLabels, BadObject, BadPaper, BadPasses, BadPath,
+    BadPlacing, BadProgram, BadReading, BadReadings, BadRegisters, BadRoads, BadRows, BadSlot, BadSpot, BadTemp, BadText,
+    BadTop, BadTrail, BadUnit, BadWord, ClockError,
 )
 from tests.checks import ODD_VALUES, nested
+from tests.link import link
 from tests.lower import lower
 from tests.test_meaning import EXAMPLE
 
@@ -18,22 +21,32 @@ UNIT = PROGRAM[0]
 ROWS = lower(UNIT)
 KIND = ("row", 2, ("record", (("a", "number"), ("b", "truth"))))
 LABEL = (0, 1, (("at", 0, 1),))
+SLOTTED = lower(readtexts.unit_of("unit u size 9\nfunction main()\nbody main\n  local r row 3 number\n  r[1] = 2"))
 ROADS = sourceroads.road_book(UNIT)
 READING = (((0, 1, ()),), (LABEL,), ())
 READINGS = {"u": (READING, ROADS)}
 WORD = ("lay", LABEL)
 CELL = ("check", 1, 2, (0, 1))
 TOP = (0, (), (("first", 0, 1),))
+PLACINGS = frames.placed(ROWS, 4)
+PAPER = ownpapers.paper_of(ROWS, 0, 4)
+IMAGE = link([ROWS], [PLACINGS], 4)
+OBJECT = ("object", ROWS[1], ROWS[2], 4, ROWS[3], ROWS[4], tuple(
+    code[:3] + (frame, told) for code, (told, frame) in zip(ROWS[5], PLACINGS)), READING, ROADS)
 
 
 def is_some_cell(value):
     return cells.is_cell(value, 10, 8, 20)
 
 
+def is_some_placing(value):
+    return judging.is_placing(ROWS, 0, 4, value)
+
+
 JUDGES = (
     codelabels.is_code_label, codelabels.is_station, kinds.is_name, kinds.is_plain, kinds.is_kind, units.is_unit,
     units.is_program, sourceroads.is_road_book, loose.is_loose, rows.is_rows, reading.is_reading, passes.is_word,
-    is_some_cell)
+    is_some_cell, is_some_placing, books.is_book, images.is_image, objects.is_object)
 # a function, right values for its parameters, and the error of each of these
 ASKED = (
     (kinds.words_of, [KIND], [BadKind]),
@@ -75,10 +88,22 @@ ASKED = (
     (cells.written_register, [CELL], [BadCell]),
     (liveness.alive_at, [ROWS, 0, 0, 0], [BadRows, BadFunction, BadSpot, BadSpot]),
     (liveness.road_to_read, [ROWS, 0, 0, 0, 1], [BadRows, BadFunction, BadSpot, BadSpot, BadTemp]),
+    (clashes.clashes, [ROWS, 0], [BadRows, BadFunction]),
+    (clashes.across, [ROWS, 0], [BadRows, BadFunction]),
+    (clashes.held_temps, [ROWS, 0], [BadRows, BadFunction]),
+    (clashes.core, [ROWS, 0, 3], [BadRows, BadFunction, BadRegisters]),
+    (frames.area, [SLOTTED, 0, 0], [BadRows, BadFunction, BadSlot]),
+    (frames.places, [ROWS, 0, 3], [BadRows, BadFunction, BadRegisters]),
+    (frames.placed, [ROWS, 3], [BadRows, BadRegisters]),
+    (judging.judge, [ROWS, 0, 4, PLACINGS[0], PAPER], [BadRows, BadFunction, BadRegisters, BadPlacing, BadPaper]),
+    (ownpapers.paper_of, [ROWS, 0, 4], [BadRows, BadFunction, BadRegisters]),
+    (books.even_book, [4], [BadBeats]),
+    (machine.Machine, [IMAGE, [1], books.even_book(2)], [BadImage, BadInputs, BadBook]),
+    (objects.same_face, [OBJECT, OBJECT], [BadObject, BadObject]),
 )
 # values that are right for some parameters with these errors
 LISTS_MAY_BE_EMPTY = (BadInputs, BadLabels, BadTrail, BadPasses)
-WHOLES_MAY_BE_RIGHT = (BadFunction, BadSpot, BadTemp, BadTop)
+WHOLES_MAY_BE_RIGHT = (BadFunction, BadSlot, BadSpot, BadTemp, BadTop, BadBeats)
 
 
 def answer_of(function, passed):
@@ -87,6 +112,9 @@ def answer_of(function, passed):
     if function in (meaning.Run, rowruns.RowRun):
         answer.go(5)
         return [answer.trace(), answer.stations(), answer.left(), answer.frames()]
+    if function is machine.Machine:
+        answer.go(50)
+        return [answer.trace(), answer.stations(), answer.left(), answer.clocks(), answer.stacks(), answer.registers()]
     return answer
 
 
@@ -141,7 +169,8 @@ class ConventionsTest(unittest.TestCase):
         right = (
             (kinds.is_kind, KIND), (codelabels.is_code_label, LABEL), (codelabels.is_station, (0, 1)),
             (units.is_unit, UNIT), (units.is_program, PROGRAM), (sourceroads.is_road_book, ROADS), (loose.is_loose, ROWS),
-            (rows.is_rows, ROWS), (reading.is_reading, READING), (passes.is_word, WORD), (is_some_cell, CELL))
+            (rows.is_rows, ROWS), (reading.is_reading, READING), (passes.is_word, WORD), (is_some_cell, CELL),
+            (is_some_placing, PLACINGS[0]), (images.is_image, IMAGE), (objects.is_object, OBJECT))
         for judge, value in right:
             self.assertIs(judge(value), True)
             for told in self.changed(value):

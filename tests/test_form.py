@@ -49,6 +49,14 @@ INTERFACE = {
     "passes": ["is_word(value)", "passed(rows, roads, reading, word)", "chosen(unit, words)"],
     "cells": ["is_cell(value, size, registers, cells)", "read_registers(cell)", "written_register(cell)"],
     "liveness": ["alive_at(rows, f, block, at)", "road_to_read(rows, f, block, at, temp)"],
+    "clashes": ["clashes(rows, f)", "across(rows, f)", "held_temps(rows, f)", "core(rows, f, registers)"],
+    "frames": ["area(rows, f, i)", "places(rows, f, registers)", "placed(rows, registers)"],
+    "judging": ["is_placing(rows, f, registers, value)", "judge(rows, f, registers, placing, paper)"],
+    "ownpapers": ["paper_of(rows, f, registers)"],
+    "books": ["is_book(value)", "even_book(beats)"],
+    "images": ["is_image(value)"],
+    "machine": [],
+    "objects": ["is_object(value)", "same_face(one, other)"],
 }
 CLASSES = {
     "meaning.Run(program, inputs)": [
@@ -56,6 +64,9 @@ CLASSES = {
     "rowruns.RowRun(all_rows, inputs)": [
         "go(many)", "trace()", "stations()", "state()", "left()", "cells(unit, store)", "calls()", "frames()",
         "trodden()"],
+    "machine.Machine(image, inputs, book)": [
+        "go(many)", "reach(items, most)", "trace()", "stations()", "clocks()", "stacks()", "steps()", "beats()",
+        "state()", "left()", "pointer()", "registers()", "word(address)", "copy()"],
 }
 
 

@@ -223,6 +223,13 @@ body g
             made = [chosen(unit, told)]
             does_as_source(self, program, made, [], [1] * 120)
 
+    def test_a_code_without_temps(self):
+        unit = unit_of(
+            "unit u size 9\nfunction main()\nfunction f()\nbody main\n  call f()\nbody f\n  local i number\n  ask i\n  show 1 (i + 2)")
+        made = chosen(unit, [("lay", LABEL)])
+        self.assertTrue(is_rows(made[0]))
+        does_as_source(self, (unit,), [made], [4], [1] * 10)
+
     def test_equal_readings_make_equal_runs(self):
         first, later = (("first", 0, 5),), (("later", 0, 5),)
         one = behind(("peel", (0, 5, ())), ("lay", (0, 9, first)), ("lay", (0, 9, later)))
@@ -442,6 +449,11 @@ class PeelTest(unittest.TestCase):
             self.assertRaises(NotHere, behind, ("peel", label))
         for way in ((("first", 0, 3),), (("later", 0, 3),), ()):
             self.assertRaises(NotHere, behind, ("peel", (0, 3, ())), ("peel", (0, 3, way)))
+        outer = ("later", 0, 3)
+        words = [("peel", (0, 3, ())), ("peel", (0, 5, (outer,)))]
+        behind(*words, ("lay", (0, 9, (outer, ("first", 0, 5)))))
+        for word in ("first", "later"):
+            self.assertRaises(NotHere, behind, *words, ("peel", (0, 5, (outer, (word, 0, 5)))))
         # a loop that folding and threading have left out
         unit = unit_of("unit u size 9\nfunction main()\nbody main\n  while no\n    show 1 1")
         self.assertRaises(NotHere, chosen, unit, [("fold",), ("thread",), ("peel", LABEL)])
@@ -503,7 +515,8 @@ class PeelTest(unittest.TestCase):
 
     def test_readings_that_no_passes_have_made(self):
         rows = lowered(UNIT)
-        turn, far = (0, 3, ()), (0, 999, ())
+        turn, far = (0, 3, ()), (0, 11, ())
+        self.assertEqual(len(BOOK[0]), 11)
         for part in range(3):
             reading = [(), (), ()]
             reading[part] = (turn, far)
