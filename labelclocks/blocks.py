@@ -1,6 +1,7 @@
 """Blocks of codes: what is reached, what is told from their ends back, and what becomes of goals with other numbers."""
 
 from labelclocks.steps import goals_of, temp_given_last, temps_read_last
+from labelclocks.values import has_doubles
 
 
 def reached_blocks(blocks):
@@ -94,6 +95,11 @@ def with_blocks(code, blocks):
 def with_codes(rows, codes):
     """The rows with other codes."""
     return rows[:5] + (tuple(codes),)
+
+
+def has_label_twice(codes):
+    """Whether a label stands twice in codes."""
+    return has_doubles([block[0] for code in codes for block in code[4] if block[0] is not None])
 
 
 def step_count(code):

@@ -38,15 +38,15 @@ class Chooser:
         self.wished = {}
         for _, steps, ending in met_blocks(code):
             for step in steps:
-                self.count(temps_read(step) + [temp_given(step)])
+                self.count_uses(temps_read(step) + [temp_given(step)])
                 if step[0] == "copy":
                     self.friends[step[1]].append(step[2])
                     self.friends[step[2]].append(step[1])
-            self.count(temps_read_last(ending) + [temp_given_last(ending)])
+            self.count_uses(temps_read_last(ending) + [temp_given_last(ending)])
             if ending[0] == "call" or ending[0] == "give":
                 self.wished[ending[1]] = ("register", 0)
 
-    def count(self, temps):
+    def count_uses(self, temps):
         """Counts a use of each of these temps, None left out."""
         for temp in temps:
             if temp is not None:

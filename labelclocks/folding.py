@@ -23,7 +23,8 @@ def known_in(size, blocks):
     waiting = [0]
     while waiting:
         at = waiting.pop()
-        for goal, told in _told_ahead(size, blocks[at], begins[at]):
+        ways = _told_ahead(size, blocks[at], begins[at])
+        for goal, told in ways:
             # what is known at a goal only ever becomes less, so this ends at the one way in which most is known
             if begins[goal] is None:
                 begins[goal] = told

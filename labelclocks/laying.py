@@ -1,11 +1,10 @@
 """The pass that lays in a call: the code of the callee stands in the place of the call."""
 
-from labelclocks.blocks import step_count, with_codes
+from labelclocks.blocks import has_label_twice, step_count, with_codes
 from labelclocks.codelabels import MOST_MARKS
 from labelclocks.errors import NotHere, TooLarge
 from labelclocks.loose import MOST_BLOCKS, MOST_SLOTS, MOST_STEPS, MOST_TEMP
 from labelclocks.steps import FORMS, GIVEN, READ, temp_given, temp_given_last, temps_read, temps_read_last
-from labelclocks.values import has_doubles
 
 
 def laid_in(rows, reading, label):
@@ -23,7 +22,7 @@ def laid_in(rows, reading, label):
     _need_room(rows, c, at, ahead, parts)
     codes = list(rows[5])
     codes[c] = Layer(rows[5][c], at, rows[5][called], ahead).code_behind()
-    if has_doubles([block[0] for block in codes[c][4] if block[0] is not None]):
+    if has_label_twice(codes):
         # so the labels were not made by passes
         raise NotHere("a label would stand twice")
     laid, peeled, last = parts

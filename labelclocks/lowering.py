@@ -78,7 +78,7 @@ class CodeMaker:
                 if at == 0:
                     self.begin()
             elif order[0] not in ENDS:
-                self.add(order)
+                self.add_order(order)
             if order[0] in ENDS or at + 1 in self.starts:
                 ending = self.ending(at, order) if order[0] in ENDS else ("jump", self.starts[at + 1])
                 found.append((label, tuple(self.written), ending))
@@ -101,7 +101,7 @@ class CodeMaker:
         self.written.append((word, self.free - 1) + behind)
         return self.free - 1
 
-    def add(self, order):
+    def add_order(self, order):
         """The steps of an order that ends no block."""
         word = order[0]
         if word == "number":

@@ -101,7 +101,7 @@ class Asked:
             left = self.left_of(step)
             if left is not None:
                 found.append(left)
-            self.add(at, step)
+            self.go_on(at, step)
         return tuple(found)
 
     def left_of(self, step):
@@ -127,7 +127,7 @@ class Asked:
             return False
         return all([self.given_at.get(temp, -1) < at for temp in temps_read(step)])
 
-    def add(self, at, step):
+    def go_on(self, at, step):
         """Goes on behind a step, as it was ahead of the pass."""
         temp = temp_given(step)
         if temp is not None:

@@ -5,7 +5,7 @@ was met since it was begun, IN_FIRST from its first round on, IN_LATER from its 
 label is there once for all that goes on alike.
 """
 
-from labelclocks.blocks import step_count, with_blocks, with_codes, with_goals
+from labelclocks.blocks import has_label_twice, step_count, with_blocks, with_codes, with_goals
 from labelclocks.codelabels import MOST_MARKS
 from labelclocks.errors import NotHere, TooLarge
 from labelclocks.reading import FIRST, LATER, is_round
@@ -35,7 +35,7 @@ def peeled_off(rows, roads, reading, label):
         raise TooLarge("too long ways")
     codes = list(rows[5])
     codes[c] = with_blocks(code, Peeler(code[4], loop).new_blocks())
-    if not are_goals_right(codes[c]):
+    if not are_goals_right(codes[c]) or has_label_twice(codes):
         # so the labels were not made by passes
         raise NotHere("no code of this loop")
     laid, peeled, last = [loop.both_written(part) for part in reading]

@@ -1,18 +1,18 @@
 """Judges rows of blocks."""
 
-from labelclocks.blocks import goal_counts
+from labelclocks.blocks import goal_counts, has_label_twice
 from labelclocks.errors import BadFunction, BadRows
 from labelclocks.given import lack_in, ring_in
 from labelclocks.loose import is_loose
 from labelclocks.steps import goals_of
-from labelclocks.values import has_doubles, is_whole
+from labelclocks.values import is_whole
 
 
 def is_rows(value):
     """Whether any value is rows."""
     if not is_loose(value):
         return False
-    if has_doubles([block[0] for code in value[5] for block in code[4] if block[0] is not None]):
+    if has_label_twice(value[5]):
         return False
     for code in value[5]:
         if not are_goals_right(code) or ring_in(code) is not None or lack_in(code) is not None:

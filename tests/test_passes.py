@@ -223,6 +223,65 @@ body g
             made = [chosen(unit, told)]
             does_as_source(self, program, made, [], [1] * 120)
 
+    def test_calls_in_last_place_of_several_units(self):
+        program = program_of("""
+unit u size 50
+use v.odd(worth number, place number) truth
+store s number
+function main()
+function even(worth n number, place p number) truth
+function down(worth n number)
+body main
+  local i number
+  local b truth
+  ask i
+  b = call even(i, s)
+  if b
+    b = call v.odd((i + 1), i)
+  show 1 (i + s)
+  call down(i)
+body even
+  local b truth
+  p = (p + 1)
+  if (n < 1)
+    give yes
+  b = call v.odd((n - 1), p)
+  give b
+body down
+  show 2 n
+  if (n < 3)
+    give
+  if (n < 9)
+    call down((n - 2))
+  else
+    call down((n - 3))
+unit v size 50
+use u.even(worth number, place number) truth
+function odd(worth n number, place p number) truth
+body odd
+  local b truth
+  local c truth
+  if (n < 1)
+    give no
+  b = call u.even((n - 1), p)
+  c = b
+  give c
+""")
+        for words in ([("last",)], [("fold",), ("copies",), ("dead",), ("thread",), ("last",)],
+                      [("last",), ("thread",), ("lay", (0, 1, ()))], [("dead",), ("thread",), ("last",), ("lay", (0, 5, ()))]):
+            made = []
+            for unit in program:
+                rows, reading = lowered(unit), NO_READING
+                for word in words:
+                    try:
+                        rows, reading = passed(rows, road_book(unit), reading, word)
+                    except NotHere:
+                        self.assertIn(word[0], ("lay", "last"))
+                made.append((rows, reading))
+            self.assertEqual([len(reading[2]) for _, reading in made][1], 1)
+            for inputs in ([], [7], [12], [40]):
+                does_as_source(self, program, made, inputs, [1] * 200 + [300])
+
     def test_a_code_without_temps(self):
         unit = unit_of(
             "unit u size 9\nfunction main()\nfunction f()\nbody main\n  call f()\nbody f\n  local i number\n  ask i\n  show 1 (i + 2)")
@@ -406,6 +465,13 @@ class LayTest(unittest.TestCase):
         rows = rows[:5] + ((rows[5][0][:4] + (tuple(blocks),), rows[5][1]),)
         self.assertTrue(is_rows(rows))
         self.assertRaises(NotHere, passed, rows, ROADS, NO_READING, ("lay", LABEL))
+        # also in another code
+        rows = rows_of(
+            code("main", (0, ("call", None, ("own", 1), (), 1)), (1, GIVE)), code("f", (0, GIVE)), code("g", (0, GIVE)))
+        g = ("g", (), None, (), (((1, 0, (("at", 0, 1),)), (), GIVE),))
+        rows = rows[:5] + (rows[5][:2] + (g,),)
+        self.assertTrue(is_rows(rows))
+        self.assertRaises(NotHere, passed, rows, ROADS, NO_READING, ("lay", LABEL))
 
 
 class PeelTest(unittest.TestCase):
@@ -507,6 +573,12 @@ class PeelTest(unittest.TestCase):
         book = (((), ("arms", 1, 2), ()), ((), ("give",), (1,)), ((), ("give",), ()), ((), ("give",), (1,)))
         rows = rows_of(code("main", (0, ("jump", 2)), (1, GIVE), (3, GIVE)))
         self.assertRaises(NotHere, passed, rows, (book,), NO_READING, ("peel", LABEL))
+        # a label with a mark stands already, in another code
+        rows, roads = self.filled(9, 50)
+        g = ("g", (), None, (), (((0, 1, (("first", 0, 1),)), (), GIVE),))
+        rows = rows[:5] + (rows[5] + (g,),)
+        self.assertTrue(is_rows(rows))
+        self.assertRaises(NotHere, passed, rows, roads, NO_READING, ("peel", LABEL))
         # one goal of a test stands in the loop, the other one does not, and is no out
         book = (((), ("arms", 1, 2), ()), ((), ("arms", 3, 4), (1,)), ((), ("give",), ()), ((), ("arms", 1, 2), (1,)), ((), ("give",), ()))
         rows = rows_of(code(
