@@ -31,7 +31,7 @@ def _join(machine, cell):
     if word in DIVIDING and machine.file[other] == 0:
         astray(machine)
     else:
-        machine.file[r] = joined(word, machine.file[one], machine.file[other]) % machine.image[1]
+        machine.file[r] = joined(word, machine.file[one], machine.file[other]) % machine.code_image[1]
 
 
 def _not(machine, cell):
@@ -104,7 +104,7 @@ def _show(machine, cell):
 
 
 def _ask(machine, cell):
-    machine.file[cell[1]] = machine.tape.ask(cell[2]) % machine.image[1]
+    machine.file[cell[1]] = machine.tape.ask(cell[2]) % machine.code_image[1]
 
 
 def _fail(machine, cell):
@@ -118,7 +118,7 @@ def _jump(machine, cell):
 def _unless(machine, cell):
     if machine.file[cell[1]] == 0:
         machine.at = cell[2]
-        machine.spent += machine.book["taken"]
+        machine.spent += machine.beats_book["taken"]
 
 
 def _call(machine, cell):
@@ -136,7 +136,7 @@ def _call(machine, cell):
 def _return(machine, cell):
     # so these words are there if the stack pointer does not come below the stores
     link = machine.sp - LINK_WORDS
-    if link < machine.image[3] or link - machine.memory[link + 1] < machine.image[3]:
+    if link < machine.code_image[3] or link - machine.memory[link + 1] < machine.code_image[3]:
         astray(machine)
         return
     machine.at = machine.memory[link]

@@ -38,7 +38,7 @@ class BodyJudge:
 
     def __init__(self, unit, f, most):
         self.unit = unit
-        self.names = names_in_reach(unit, f)
+        self.kinds_named = names_in_reach(unit, f)
         self.result = unit[4][f][2]
         self.most = most
         self.nodes = 0
@@ -128,7 +128,7 @@ class BodyJudge:
         if not self.may_stand(place, depth, PLACES):
             return None
         if place[0] == "name":
-            return self.names.get(place[1]) if isinstance(place[1], str) else None
+            return self.kinds_named.get(place[1]) if isinstance(place[1], str) else None
         kind = self.place_kind(place[1], depth + 1)
         if kind is None or is_plain(kind):
             return None

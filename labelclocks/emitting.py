@@ -50,7 +50,7 @@ class Emitter:
         self.starts = {}
         self.spares = list(range(registers - SPARE_REGISTERS, registers))
         # the words that spare registers hold, too
-        self.kept = {}
+        self.kept_words = {}
 
     def write(self):
         """Writes the cells of all blocks that are met."""
@@ -75,7 +75,7 @@ class Emitter:
         """Writes a block; tells the one that has to follow at once, None if any may. What is to come waits."""
         label, steps, ending = self.code[4][at]
         self.starts[at] = len(self.written)
-        self.kept = {}
+        self.kept_words = {}
         if at == 0:
             self.written.append(("room", self.frame))
         if label is not None:
@@ -112,7 +112,7 @@ class Emitter:
     def spare_with(self, word):
         """A spare register that holds a word of the frame, None if there is none."""
         for spare in self.spares:
-            if self.kept.get(spare) == word:
+            if self.kept_words.get(spare) == word:
                 return spare
         return None
 
@@ -125,13 +125,13 @@ class Emitter:
         if spare is None:
             spare = self.free_spare(busy)
             self.written.append(("get", spare, at))
-            self.kept[spare] = at
+            self.kept_words[spare] = at
         return spare
 
     def free_spare(self, busy):
         """A spare register other than the busy one, best one that holds no word."""
         free = [spare for spare in self.spares if spare != busy]
-        return ([spare for spare in free if spare not in self.kept] + free)[0]
+        return ([spare for spare in free if spare not in self.kept_words] + free)[0]
 
     def fetched_both(self, one, other):
         """The registers with what two temps hold."""
@@ -146,17 +146,17 @@ class Emitter:
             return
         spare = self.free_spare(None)
         self.written.append((word, spare) + behind)
-        self.kept.pop(spare, None)
+        self.kept_words.pop(spare, None)
         if is_alive:
             self.keep(at, spare)
-            self.kept[spare] = at
+            self.kept_words[spare] = at
 
     def keep(self, word, r):
         """Writes a cell that keeps a register in a word of the frame."""
         self.written.append(("keep", word, r))
         for spare in self.spares:
-            if self.kept.get(spare) == word and spare != r:
-                self.kept.pop(spare)
+            if self.kept_words.get(spare) == word and spare != r:
+                self.kept_words.pop(spare)
 
     def add_step(self, step, is_alive):
         """Writes the cells of a step."""

@@ -34,13 +34,13 @@ class CodeMaker:
     def __init__(self, unit, f):
         self.unit = unit
         self.f = f
-        _, self.params, self.result, self.told, _ = unit[4][f]
+        _, self.params, self.result, self.locals_told, _ = unit[4][f]
         self.held = holders(unit, f)
         self.by_place = [name for name, way, _ in self.params if way == "place"]
         self.orders = code_of(unit, f).orders
         self.starts = self.block_starts()
         # the temp that the next step gives: all names have theirs ahead of it
-        self.free = len(self.params) + len(self.told)
+        self.free = len(self.params) + len(self.locals_told)
         self.written = []
         self.stack = []
         # the temp that holds the result of the call that ended the last block
@@ -49,7 +49,7 @@ class CodeMaker:
     def slot_words(self):
         """The words of each slot."""
         words = {name: word_count(kind) for name, _, kind in self.params}
-        for name, kind in self.told:
+        for name, kind in self.locals_told:
             words[name] = word_count(kind)
         return tuple([words[name] for name in self.held if self.held[name][0] == "slot"])
 
@@ -91,7 +91,7 @@ class CodeMaker:
         for at, (name, way, _) in enumerate(self.params):
             if way == "worth" and self.held[name][0] == "slot":
                 self.written.append(("save", self.give("base", self.held[name]), at))
-        for name, _ in self.told:
+        for name, _ in self.locals_told:
             where, at = self.held[name]
             self.written.append(("clear", at) if where == "slot" else ("const", at, 0))
 

@@ -19,8 +19,8 @@ class Machine:
             raise BadImage("no image")
         need_inputs(inputs)
         need_book(book)
-        self.image = image
-        self.book = {key: book[key] for key in book}
+        self.code_image = image
+        self.beats_book = {key: book[key] for key in book}
         self.image_cells = image[5]
         self.tape = Tape(inputs, image[1])
         self.file = [0] * image[2]
@@ -104,7 +104,7 @@ class Machine:
 
     def copy(self):
         """A machine that tells the same, and goes its own way."""
-        twin = Machine(self.image, self.tape.inputs, self.book)
+        twin = Machine(self.code_image, self.tape.given_inputs, self.beats_book)
         twin.tape = self.tape.twin()
         twin.file = list(self.file)
         twin.memory = list(self.memory)
@@ -117,7 +117,7 @@ class Machine:
         """Does a step: whether there was one to do."""
         if self.tape.mode != RUNNING:
             return False
-        height = self.sp - self.image[3]
+        height = self.sp - self.code_image[3]
         if self.at >= len(self.image_cells):
             astray(self)
             self._note(height)
@@ -126,9 +126,9 @@ class Machine:
         word = cell[0]
         self.at += 1
         self.done += 1
-        self.spent += self.book["store" if word == "point" else word]
+        self.spent += self.beats_book["store" if word == "point" else word]
         if self.loaded is not None and reads_in_image(cell, self.loaded):
-            self.spent += self.book["wait"]
+            self.spent += self.beats_book["wait"]
         action = ACTIONS[word]
         action(self, cell)
         self.loaded = cell[1] if word in WAITED_FOR else None
@@ -140,7 +140,7 @@ class Machine:
         """Does the marks that stand next, if the run goes on."""
         while self.tape.mode == RUNNING and self.at < len(self.image_cells) and self.image_cells[self.at][0] == "mark":
             self.tape.make(("label",) + self.image_cells[self.at][1:], None)
-            self._note(self.sp - self.image[3])
+            self._note(self.sp - self.code_image[3])
             self.at += 1
             self.loaded = None
 

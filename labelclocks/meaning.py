@@ -35,7 +35,7 @@ class Run:
         if not is_program(program):
             raise BadProgram("no program")
         need_inputs(inputs)
-        self.program = program
+        self.units = program
         self.tape = Tape(inputs, program[0][1])
         self.codes = [[code_of(unit, f) for f in range(len(unit[4]))] for unit in program]
         # the words of stores, by units and names
@@ -52,7 +52,7 @@ class Run:
             if self.opened:
                 self._do_order(self.opened[-1])
             else:
-                names = [function[0] for function in self.program[0][4]]
+                names = [function[0] for function in self.units[0][4]]
                 self._begin(0, names.index("main"), [])
 
     def trace(self):
@@ -73,19 +73,19 @@ class Run:
 
     def calls(self):
         """The pairs (unit name, f) of the calls that are not over."""
-        return [(self.program[call.unit][0], call.f) for call in self.opened]
+        return [(self.units[call.unit][0], call.f) for call in self.opened]
 
     def frames(self):
         """The triples (unit name, f, words by names) of the calls that are not over."""
         found = []
         for call in self.opened:
             words = {name: tuple(call.places[name][0]) for name in sorted(call.own)}
-            found.append((self.program[call.unit][0], call.f, words))
+            found.append((self.units[call.unit][0], call.f, words))
         return found
 
     def cells(self, unit, store):
         """The words of a store."""
-        for u, owner in enumerate(self.program):
+        for u, owner in enumerate(self.units):
             if isinstance(unit, str) and isinstance(store, str) and owner[0] == unit and store in self.stores[u]:
                 return list(self.stores[u][store])
         raise NoStore(unit, store)
@@ -95,11 +95,11 @@ class Run:
         return self.wrapped
 
     def _station(self, call, number):
-        return self.program[call.unit][0], call.f, number
+        return self.units[call.unit][0], call.f, number
 
     def _begin(self, u, f, passed):
         """Begins a call with these numbers and addresses."""
-        function = self.program[u][4][f]
+        function = self.units[u][4][f]
         call = Call(u, f, self.codes[u][f].orders)
         for name in self.stores[u]:
             call.places[name] = (self.stores[u][name], 0)
@@ -172,12 +172,12 @@ class Run:
         call.stack = call.stack[:len(call.stack) - many]
         u, f = call.unit, callee[1]
         if callee[0] == "use":
-            u, f = self._met(self.program[u][2][callee[1]])
+            u, f = self._met(self.units[u][2][callee[1]])
         self._begin(u, f, passed)
 
     def _met(self, use):
         """The numbers of the unit and the function that a use names."""
-        for u, unit in enumerate(self.program):
+        for u, unit in enumerate(self.units):
             for f, function in enumerate(unit[4]):
                 if (unit[0], function[0]) == use[:2]:
                     return u, f

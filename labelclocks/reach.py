@@ -25,7 +25,7 @@ class CallHead:
         self.unit = unit
         self.function = function
         self.callee = callee
-        self.ways = ways
+        self.ways_taken = ways
         self.result = result
 
 
@@ -34,13 +34,13 @@ class Reach:
 
     def __init__(self, size, names, callables, result):
         self.size = size
-        self.names = names
+        self.kinds_named = names
         self.callables = callables
         self.result = result
 
     def names_with(self, wanted, height):
         """The names with a part of a wanted kind, for a place of at most so many nodes one in another."""
-        return [name for name in self.names if steps_to(self.names[name], wanted) < height]
+        return [name for name in self.kinds_named if steps_to(self.kinds_named[name], wanted) < height]
 
     def calls_at(self, depth, results):
         """The callables with one of these results that a call at this depth can pass all they want."""
@@ -51,7 +51,7 @@ class Reach:
     def can_call(self, found, depth):
         """Whether there are args for a callable at this depth."""
         height = MOST_NODES_DEEP - depth
-        for way, kind in found.ways:
+        for way, kind in found.ways_taken:
             if height < 1 or way == "place" and not self.names_with([kind], height):
                 return False
         return True

@@ -144,7 +144,7 @@ class BodyReader:
         sign = self.cursor.take((["("] if owns else []) + (["."] if uses else []))
         called = owns[0] if sign == "(" else self.read_used(uses)
         passed = []
-        for way, kind in called.ways:
+        for way, kind in called.ways_taken:
             if passed:
                 self.cursor.take([","])
             passed.append(self.read_arg(way, kind, MOST_NODES_DEEP - depth))

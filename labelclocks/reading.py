@@ -115,6 +115,8 @@ class Walk:
         self.readers = {name: Reader(readings[name][0], readings[name][1]) for name in readings}
         # empty only ahead of the first label
         self.opened = []
+        # the pairs (unit, f) of the activations that have frames, outermost first
+        self.framed = []
 
     def ending(self):
         """The ending of the road of the last label."""
@@ -151,10 +153,11 @@ class Walk:
         """Goes on behind a label; tells the pair (unit, code label) or None."""
         unit, f, k = label
         if not self.opened:
-            self.opened.append(Activation(unit, (f, (), ())))
+            self.begin(unit, (f, (), ()))
         elif self.ending()[0] == "call":
             self.enter(unit, f)
         elif self.ending()[0] == "give":
+            self.leave_frame()
             self.opened.pop()
         last = self.opened[-1]
         written, last.top = self.readers[unit].turned(last.top, k)
@@ -167,12 +170,21 @@ class Walk:
         reader = self.readers[last.unit]
         back = self.ending()[2]
         if reader.is_last(last.top, back):
-            last.has_frame = False
-        self.opened.append(Activation(unit, reader.entered(last.top, back, f)))
+            self.leave_frame()
+        self.begin(unit, reader.entered(last.top, back, f))
 
-    def frames(self):
-        """The pairs (unit, f) of the frames that there are, outermost first."""
-        return [(call.unit, call.top[0]) for call in self.opened if call.has_frame]
+    def begin(self, unit, top):
+        """Begins an activation."""
+        self.opened.append(Activation(unit, top))
+        if self.opened[-1].has_frame:
+            self.framed.append((unit, top[0]))
+
+    def leave_frame(self):
+        """Takes the frame of the innermost activation away, if it has one."""
+        if self.opened[-1].has_frame:
+            # those further in are over, so its frame is the last one
+            self.framed.pop()
+            self.opened[-1].has_frame = False
 
 
 def _walk_to_begin(readings, labels):
@@ -202,7 +214,7 @@ def frames(readings, labels):
         if not walk.can_meet(label):
             raise BadLabels(at)
         walk.meet(label)
-        found.append(walk.frames())
+        found.append(list(walk.framed))
     return found
 
 

@@ -28,7 +28,7 @@ def read_expression(cursor, reach, wanted, height):
         return _read_bracket(cursor, reach, wanted, height - 1)
     if word == "yes" or word == "no":
         return ("truth", word), "truth"
-    if word not in reach.names:
+    if word not in reach.kinds_named:
         return ("number", int(word)), "number"
     place, kind = read_place(cursor, reach, word, wanted, height - 1)
     return ("read", place), kind
@@ -64,7 +64,7 @@ def _words_between(kind, wanted):
 def read_place(cursor, reach, name, wanted, height):
     """The pair of the place that begins with a name, already taken, and its kind, which is a wanted one."""
     place = ("name", name)
-    kind = reach.names[name]
+    kind = reach.kinds_named[name]
     taken = 0
     # how many steps the whole place can have, itself and all its indexes being no higher than there is room
     most = height - 1

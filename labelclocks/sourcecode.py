@@ -48,7 +48,7 @@ class Coder:
     """Writes the orders of one body; labels and stations are numbered in reading order."""
 
     def __init__(self, names):
-        self.names = names
+        self.kinds_named = names
         self.orders = []
         self.loops = []
         self.station_count = 0
@@ -174,7 +174,7 @@ class Coder:
     def address(self, place):
         """The pair of the orders that put the address of a place and its kind."""
         if place[0] == "name":
-            return [place], self.names[place[1]]
+            return [place], self.kinds_named[place[1]]
         if place[0] == "field":
             orders, kind = self.address(place[1])
             inner, ahead = field_kind(kind, place[2])

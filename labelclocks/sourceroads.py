@@ -120,7 +120,7 @@ class Walk:
     """A walk along the labels of a program."""
 
     def __init__(self, program):
-        self.program = program
+        self.units = program
         self.books = {unit[0]: book_of(unit) for unit in program}
         # the labels back of the calls that are not over, and the labels that can come next
         self.backs = []
@@ -128,7 +128,7 @@ class Walk:
 
     def door(self, name, function):
         """The label door of a function of the unit with a name."""
-        for unit in self.program:
+        for unit in self.units:
             names = [told[0] for told in unit[4]]
             if unit[0] == name:
                 return name, names.index(function), 0
@@ -158,5 +158,5 @@ class Walk:
         """The door of a callee that a unit calls."""
         if callee[0] == "own":
             return name, callee[1], 0
-        uses = [unit[2] for unit in self.program if unit[0] == name][0]
+        uses = [unit[2] for unit in self.units if unit[0] == name][0]
         return self.door(uses[callee[1]][0], uses[callee[1]][1])

@@ -21,7 +21,7 @@ class Tape:
     """What a run has made so far, and what it still can ask."""
 
     def __init__(self, inputs, size):
-        self.inputs = list(inputs)
+        self.given_inputs = list(inputs)
         self.size = size
         self.asked = 0
         self.row = []
@@ -58,19 +58,19 @@ class Tape:
     def ask(self, station):
         """The next input, as it is told ahead of the modulo; its item is made."""
         told = 0
-        if self.asked < len(self.inputs):
-            told = self.inputs[self.asked]
+        if self.asked < len(self.given_inputs):
+            told = self.given_inputs[self.asked]
             self.asked += 1
         self.make(("asked", told % self.size), station)
         return told
 
     def left(self):
         """The inputs that were not asked."""
-        return self.inputs[self.asked:]
+        return self.given_inputs[self.asked:]
 
     def twin(self):
         """A tape that tells the same, and goes its own way."""
-        other = Tape(self.inputs, self.size)
+        other = Tape(self.given_inputs, self.size)
         other.asked = self.asked
         other.row = list(self.row)
         other.marks = list(self.marks)

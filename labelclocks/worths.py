@@ -5,7 +5,7 @@ class Worths:
     """Gives numbers for what is told."""
 
     def __init__(self):
-        self.told = {}
+        self.numbers = {}
         self.many = 0
 
     def fresh(self):
@@ -15,9 +15,9 @@ class Worths:
 
     def made(self, key):
         """The number of what a word makes of what follows it in a tuple, the same one each time."""
-        if key not in self.told:
-            self.told[key] = self.fresh()
-        return self.told[key]
+        if key not in self.numbers:
+            self.numbers[key] = self.fresh()
+        return self.numbers[key]
 
 
 class Holders:

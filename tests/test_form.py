@@ -57,6 +57,26 @@ INTERFACE = {
     "images": ["is_image(value)"],
     "machine": [],
     "objects": ["is_object(value)", "same_face(one, other)"],
+    "compiling": ["compiled(unit, words, registers)"],
+    "linking": [
+        "linked(objects, main, room, needed)", "addresses(objects, main, room, needed)", "store_at(objects, unit, x)"],
+    "led": ["is_led(thing)"],
+    "prices": ["prices(thing, book)", "sum_of(table, labels)"],
+    "clocks": ["foretold(objects, book, trace, stations)"],
+    "webs": ["is_web(value)", "useful(web)"],
+    "words": ["is_words(web, words)", "measures(web, words)"],
+    "papers": [
+        "heights(web, den, prices)", "is_priced(web, den, prices, told)", "is_bag(web, words, weights, divisor, den)",
+        "priced(web)"],
+    "imagewebs": ["web_of(image, book)"],
+    "extremes": [
+        "least(web)", "is_least(web, number, heights, words)", "is_below(web, words, ring)", "revalued(web, weights)"],
+    "labelwebs": ["label_web(sides, main, rounds)", "totals(names, sides, books)"],
+    "bounds": ["between(objects, main, book, rounds)", "gap(one, other, main, book, rounds)"],
+    "needs": ["needed(objects, main)", "depth_of(objects, main, chain)"],
+    "labeltexts": ["label_text(label)", "label_of(text)", "passes_text(words)", "passes_of(text)"],
+    "bench": [],
+    "desk": [],
 }
 CLASSES = {
     "meaning.Run(program, inputs)": [
@@ -67,7 +87,16 @@ CLASSES = {
     "machine.Machine(image, inputs, book)": [
         "go(many)", "reach(items, most)", "trace()", "stations()", "clocks()", "stacks()", "steps()", "beats()",
         "state()", "left()", "pointer()", "registers()", "word(address)", "copy()"],
+    "bench.Bench(program, book)": [
+        "put(unit)", "drop(name)", "make(name, words, registers)", "arrange(names)", "house(room)", "charge(book)",
+        "begin(inputs)", "go(steps)", "keep(name)", "back(name)", "undo()", "ways(name)", "made(name)", "image()",
+        "machine()", "source()", "told()", "would(name, words, registers)", "profile()", "listing(name)", "copy()",
+        "tried(task)", "program()", "names()", "book()", "room()", "inputs()", "kept()", "log()", "__len__()",
+        "__eq__(other)"],
+    "desk.Desk()": ["say(line)"],
 }
+# what the package takes from Python's own library
+LIBRARY = {"math": ["gcd"]}
 
 
 def files():
@@ -144,7 +173,9 @@ class FormTest(unittest.TestCase):
         for name, tree in self.trees:
             for node in ast.walk(tree):
                 self.assertNotIsInstance(node, ast.Import, name)
-                if isinstance(node, ast.ImportFrom):
+                if isinstance(node, ast.ImportFrom) and node.module in LIBRARY:
+                    self.assertLessEqual({alias.name for alias in node.names}, set(LIBRARY[node.module]), name)
+                elif isinstance(node, ast.ImportFrom):
                     self.assertTrue(node.module.startswith("labelclocks."), name)
                     origin = node.module[len("labelclocks."):] + ".py"
                     for alias in node.names:
@@ -184,13 +215,16 @@ class FormTest(unittest.TestCase):
     def test_nodes(self):
         barred = (
             ast.AsyncFunctionDef, ast.Global, ast.Nonlocal, ast.Set, ast.SetComp, ast.GeneratorExp, ast.Yield,
-            ast.YieldFrom, ast.Await, ast.Match, ast.With, ast.Delete, ast.Div, ast.MatMult, ast.Starred, ast.Pow,
+            ast.YieldFrom, ast.Await, ast.Match, ast.With, ast.Delete, ast.Div, ast.MatMult, ast.Starred,
             ast.NamedExpr, ast.AnnAssign, ast.Assert)
         for name, tree in self.trees:
             for node in ast.walk(tree):
                 self.assertNotIsInstance(node, barred, f"{name}:{getattr(node, 'lineno', 0)}")
                 if isinstance(node, (ast.FunctionDef, ast.ClassDef)):
-                    self.assertEqual(node.decorator_list, [], name)
+                    for part in node.decorator_list:
+                        self.assertTrue(isinstance(part, ast.Name) and part.id == "property", name)
+                if isinstance(node, ast.BinOp) and isinstance(node.op, ast.Pow):
+                    self.assertIsInstance(node.right, ast.Constant, name)
                 if isinstance(node, ast.Constant):
                     self.assertNotIsInstance(node.value, (float, bytes, complex), name)
                     if isinstance(node.value, str):
@@ -266,7 +300,7 @@ class FormTest(unittest.TestCase):
 
     def test_names_that_are_read(self):
         for name, tree in self.trees:
-            known = set(bound_names(tree)) | set(BUILTINS) | set(OWN_ERRORS)
+            known = set(bound_names(tree)) | set(BUILTINS) | set(OWN_ERRORS) | {"property"}
             for node in tree.body:
                 if isinstance(node, ast.ImportFrom):
                     known.update(alias.name for alias in node.names)
@@ -289,7 +323,8 @@ class FormTest(unittest.TestCase):
                     known = node.func.attr in methods or node.func.attr in METHODS or node.func.attr == "__init__"
                     self.assertTrue(known, f"{name}:{node.lineno} {node.func.attr}")
                 elif isinstance(node, ast.Attribute) and node.attr not in attributes:
-                    self.assertTrue(node.attr in methods or node.attr in METHODS or node.attr == "__init__", node.attr)
+                    known = node.attr in methods or node.attr in METHODS
+                    self.assertTrue(known or node.attr in ("__init__", "__class__", "__name__"), node.attr)
             for node in tree.body:
                 if isinstance(node, ast.ClassDef):
                     own = {part.name for part in node.body if isinstance(part, ast.FunctionDef)}
