@@ -3,13 +3,15 @@
 import copy
 import unittest
 
-from labelclocks import books, cells, clashes, codelabels, copying, folding, frames, given, images, judging, kinds, lines
-from labelclocks import liveness, loose, lowering, machine, meaning, needing, objects, ownpapers, passes, reading, readtexts
-from labelclocks import rownames, rowroads, rowruns, rows, sourceroads, texts, units
+from labelclocks import bench, books, bounds, cells, clashes, clocks, codelabels, compiling, copying, desk, extremes, folding, frames
+from labelclocks import given, images, imagewebs, judging, kinds, labeltexts, labelwebs, led, lines, linking, liveness, loose, lowering
+from labelclocks import machine, meaning, needing, needs, objects, ownpapers, papers, passes, prices, reading, readtexts, rownames
+from labelclocks import rowroads, rowruns, rows, sourceroads, texts, units, webs, words
 from labelclocks.errors import (
-    BadBeats, BadBook, BadCell, BadFunction, BadImage, BadInputs, BadKind, BadLabels, BadObject, BadPaper, BadPasses, BadPath,
-    BadPlacing, BadProgram, BadReading, BadReadings, BadRegisters, BadRoads, BadRows, BadSlot, BadSpot, BadTemp, BadText,
-    BadTop, BadTrail, BadUnit, BadWord, ClockError,
+    BadBeats, BadBook, BadBooks, BadCell, BadChain, BadDen, BadFunction, BadImage, BadInputs, BadKind, BadLabel, BadLabels,
+    BadLabelText, BadNames, BadNeeded, BadObject, BadObjects, BadPaper, BadPasses, BadPassesText, BadPath, BadPlacing, BadPrices,
+    BadProgram, BadReading, BadReadings, BadRegisters, BadRoads, BadRoom, BadRounds, BadRows, BadSides, BadSlot, BadSpot, BadTemp,
+    BadText, BadTop, BadTrace, BadTrail, BadUnit, BadWeb, BadWeights, BadWord, BadWords, ClockError, NoMain, NoStore,
 )
 from tests.checks import ODD_VALUES, nested
 from tests.link import link
@@ -33,6 +35,17 @@ PAPER = ownpapers.paper_of(ROWS, 0, 4)
 IMAGE = link([ROWS], [PLACINGS], 4)
 OBJECT = ("object", ROWS[1], ROWS[2], 4, ROWS[3], ROWS[4], tuple(
     code[:3] + (frame, told) for code, (told, frame) in zip(ROWS[5], PLACINGS)), READING, ROADS)
+MADE = [compiling.compiled(UNIT, [("fold",)], 4)]
+STORED = [compiling.compiled(readtexts.unit_of("unit u size 10\nstore s row 3 number\nfunction main()\nbody main\n  s[0] = 1"))]
+BOOK = books.even_book(2)
+RUN = meaning.Run(PROGRAM, [14])
+RUN.go(5)
+WEB = (2, ((3, ((0, 1, 1, 5, (0,)), (1, 2, 1, 0, ()))), (2, ((0, 1, None, 3, (1, 1)),))))
+WEB_WORDS = ((1, (0,)), (0, ((0, 0), (1, 0))))
+FITTING = (11, 0)
+LEAST = extremes.least(WEB)
+NAMES = labelwebs.label_web([MADE], "u")[1]
+CHAIN = needs.needed(MADE, "u")[2]
 
 
 def is_some_cell(value):
@@ -43,7 +56,28 @@ def is_some_placing(value):
     return judging.is_placing(ROWS, 0, 4, value)
 
 
+def is_some_words(value):
+    return words.is_words(WEB, value)
+
+
+def is_some_priced(value):
+    return papers.is_priced(WEB, 1, FITTING, value)
+
+
+def is_some_bag(value):
+    return papers.is_bag(WEB, value, (0, 1), 1, 1)
+
+
+def is_some_least(value):
+    return extremes.is_least(WEB, LEAST[1], value, LEAST[3])
+
+
+def is_some_below(value):
+    return extremes.is_below(WEB, (), value)
+
+
 JUDGES = (
+    is_some_words, is_some_priced, is_some_bag, is_some_least, is_some_below, webs.is_web,
     codelabels.is_code_label, codelabels.is_station, kinds.is_name, kinds.is_plain, kinds.is_kind, units.is_unit,
     units.is_program, sourceroads.is_road_book, loose.is_loose, rows.is_rows, reading.is_reading, passes.is_word,
     is_some_cell, is_some_placing, books.is_book, images.is_image, objects.is_object)
@@ -100,10 +134,38 @@ ASKED = (
     (books.even_book, [4], [BadBeats]),
     (machine.Machine, [IMAGE, [1], books.even_book(2)], [BadImage, BadInputs, BadBook]),
     (objects.same_face, [OBJECT, OBJECT], [BadObject, BadObject]),
+    (compiling.compiled, [UNIT, [("fold",)], 4], [BadUnit, BadPasses, BadRegisters]),
+    (linking.linked, [MADE, "u", 100, True], [BadObjects, None, BadRoom, BadNeeded]),
+    (linking.addresses, [MADE, "u", 100, False], [BadObjects, None, BadRoom, BadNeeded]),
+    (linking.store_at, [STORED, "u", "s"], [BadObjects, NoStore, NoStore]),
+    (led.is_led, [MADE[0]], [BadObject]),
+    (prices.prices, [MADE[0], BOOK], [BadObject, BadBook]),
+    (prices.sum_of, [prices.prices(MADE[0], BOOK), [(0, 0, ())]], [None, BadLabels]),
+    (clocks.foretold, [MADE, BOOK, RUN.trace(), RUN.stations()], [BadObjects, BadBook, BadTrace, BadTrace]),
+    (webs.useful, [WEB], [BadWeb]),
+    (words.measures, [WEB, WEB_WORDS], [BadWeb, BadWords]),
+    (papers.heights, [WEB, 1, FITTING], [BadWeb, BadDen, BadPrices]),
+    (papers.priced, [WEB], [BadWeb]),
+    (imagewebs.web_of, [IMAGE, BOOK], [BadImage, BadBook]),
+    (extremes.least, [WEB], [BadWeb]),
+    (extremes.revalued, [WEB, (3, 4)], [BadWeb, BadWeights]),
+    (labelwebs.label_web, [[MADE, MADE], "u", {}], [BadSides, NoMain, BadRounds]),
+    (labelwebs.totals, [NAMES, [MADE], [BOOK]], [BadNames, BadSides, BadBooks]),
+    (bounds.between, [MADE, "u", BOOK, {}], [BadObjects, NoMain, BadBook, BadRounds]),
+    (bounds.gap, [MADE, MADE, "u", BOOK, {}], [BadObjects, BadObjects, NoMain, BadBook, BadRounds]),
+    (needs.needed, [MADE, "u"], [BadObjects, NoMain]),
+    (needs.depth_of, [MADE, "u", CHAIN], [BadObjects, NoMain, BadChain]),
+    (labeltexts.label_text, [LABEL], [BadLabel]),
+    (labeltexts.label_of, ["0.1@0.1"], [BadLabelText]),
+    (labeltexts.passes_text, [[WORD]], [BadPasses]),
+    (labeltexts.passes_of, ["fold dead"], [BadPassesText]),
+    (bench.Bench, [PROGRAM, BOOK], [BadProgram, BadBook]),
 )
+# errors that a list of no objects has, in the place of that of its place
+MORE_ERRORS = {BadSides: (BadSides, BadObjects)}
 # values that are right for some parameters with these errors
-LISTS_MAY_BE_EMPTY = (BadInputs, BadLabels, BadTrail, BadPasses)
-WHOLES_MAY_BE_RIGHT = (BadFunction, BadSlot, BadSpot, BadTemp, BadTop, BadBeats)
+LISTS_MAY_BE_EMPTY = (BadInputs, BadLabels, BadTrail, BadPasses, BadWords, BadNames, BadTrace)
+WHOLES_MAY_BE_RIGHT = (BadFunction, BadSlot, BadSpot, BadTemp, BadTop, BadBeats, BadDen)
 
 
 def answer_of(function, passed):
@@ -115,7 +177,25 @@ def answer_of(function, passed):
     if function is machine.Machine:
         answer.go(50)
         return [answer.trace(), answer.stations(), answer.left(), answer.clocks(), answer.stacks(), answer.registers()]
+    if function is bench.Bench:
+        answer.go(50)
+        return [answer.program, answer.names, answer.book, answer.told(), answer.profile(), answer.listing("u")]
     return answer
+
+
+def may_be_right(value, error, function):
+    """Whether a value may be right in a place with an error."""
+    if value in ([], ()) and error in LISTS_MAY_BE_EMPTY or value == {} and error in (BadReadings, BadRounds):
+        return True
+    if isinstance(value, int) and not isinstance(value, bool) and error in WHOLES_MAY_BE_RIGHT:
+        return True
+    if isinstance(value, bool) and error is BadNeeded or isinstance(value, str) and error in (BadText, BadKind):
+        return True
+    if value is None and (error is BadRounds or function is bench.Bench):
+        return True
+    if error is BadPassesText and value == "":
+        return True
+    return value == [1] or value == (1,)
 
 
 class ConventionsTest(unittest.TestCase):
@@ -123,9 +203,11 @@ class ConventionsTest(unittest.TestCase):
     def test_parameters_are_checked_from_left_to_right(self):
         for function, right, errors in ASKED:
             for at, error in enumerate(errors):
-                passed = right[:at] + [None] * (len(right) - at)
-                with self.assertRaises(error, msg=function.__name__):
-                    function(*passed)
+                wrong = 7 if error is BadRounds or function is bench.Bench else None
+                passed = right[:at] + [wrong] * (len(right) - at)
+                if error is not None:
+                    with self.assertRaises(error, msg=function.__name__):
+                        function(*passed)
 
     def test_any_value_is_judged(self):
         odd = ODD_VALUES + (nested(1, 40), [nested((), 39)], {"x": nested("x", 38)}, meaning.Run(PROGRAM, []))
@@ -136,16 +218,9 @@ class ConventionsTest(unittest.TestCase):
             for at, error in enumerate(errors):
                 for value in odd:
                     passed = right[:at] + [value] + right[at + 1:]
-                    if value in ([], ()) and error in LISTS_MAY_BE_EMPTY or value == {} and error is BadReadings:
-                        continue
-                    if isinstance(value, int) and not isinstance(value, bool) and error in WHOLES_MAY_BE_RIGHT:
-                        continue
-                    if isinstance(value, str) and error in (BadText, BadKind):
-                        continue
-                    if value == [1] or value == (1,):
-                        continue
-                    with self.assertRaises(error, msg=f"{function.__name__} {value}"):
-                        function(*passed)
+                    if error is not None and not may_be_right(value, error, function):
+                        with self.assertRaises(MORE_ERRORS.get(error, error), msg=f"{function.__name__} {value}"):
+                            function(*passed)
 
     def test_true_and_false_are_no_wholes(self):
         self.assertRaises(BadFunction, units.labels_of, UNIT, False)
@@ -170,7 +245,7 @@ class ConventionsTest(unittest.TestCase):
             (kinds.is_kind, KIND), (codelabels.is_code_label, LABEL), (codelabels.is_station, (0, 1)),
             (units.is_unit, UNIT), (units.is_program, PROGRAM), (sourceroads.is_road_book, ROADS), (loose.is_loose, ROWS),
             (rows.is_rows, ROWS), (reading.is_reading, READING), (passes.is_word, WORD), (is_some_cell, CELL),
-            (is_some_placing, PLACINGS[0]), (images.is_image, IMAGE), (objects.is_object, OBJECT))
+            (is_some_placing, PLACINGS[0]), (images.is_image, IMAGE), (objects.is_object, OBJECT), (webs.is_web, WEB))
         for judge, value in right:
             self.assertIs(judge(value), True)
             for told in self.changed(value):
