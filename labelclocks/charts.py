@@ -76,7 +76,8 @@ class Chart:
         self.order = list(self.ends)
         done = 0
         while done < len(self.order):
-            for at in waits[self.order[done]]:
+            finished = self.order[done]
+            for at in waits[finished]:
                 missing[at] -= 1
                 spot = self.edges[at].spot
                 if missing[at] == 0 and self.choice[spot] is None:
@@ -95,7 +96,8 @@ class Chart:
         waiting = [self.starts[0]]
         done = 0
         while done < len(waiting):
-            for at in leads[waiting[done]]:
+            reached = waiting[done]
+            for at in leads[reached]:
                 edge = self.edges[at]
                 if edge.goal not in self.came:
                     self.came[edge.goal] = at

@@ -25,8 +25,8 @@ class Desk:
             return "empty"
         try:
             return self._answer(parts[0], parts[1:])
-        except BadText as why:
-            return f"error badtext {why.line} {why.column}"
+        except BadText as wrong:
+            return f"error badtext {wrong.line} {wrong.column}"
         except ClockError as why:
             return "error " + why.__class__.__name__.lower()
 

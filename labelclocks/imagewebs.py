@@ -44,7 +44,7 @@ class Walker:
         first = (0 if begin is None else begin, None)
         met = {first: True}
         self.spots_met[begin] = met
-        self.count(LEAST_PLACES)
+        self.count_more(LEAST_PLACES)
         waiting = [first]
         while waiting:
             spot = waiting.pop()
@@ -53,10 +53,10 @@ class Walker:
                     self.net_begins.append(call)
                 if goal is not None and goal not in met:
                     met[goal] = True
-                    self.count(1)
+                    self.count_more(1)
                     waiting.append(goal)
 
-    def count(self, many):
+    def count_more(self, many):
         """Counts places, and asks whether there are too many, or too many nets."""
         self.many += many
         if self.many > MOST_PLACES or len(self.spots_met) > MOST_NETS:

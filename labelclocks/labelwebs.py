@@ -87,10 +87,10 @@ class Finder:
             self.net_numbers[net] = len(self.nets)
             self.nets.append(net)
             # its start and its end
-            self.count(2)
+            self.count_more(2)
         return self.net_numbers[net]
 
-    def count(self, many):
+    def count_more(self, many):
         """Counts places, and asks whether there is too much of something."""
         self.many += many
         if self.many > MOST_PLACES or len(self.nets) > MOST_NETS or len(self.names_read) > MOST_LABELS:
@@ -107,12 +107,12 @@ class Finder:
                 if goal is not None and goal not in numbers:
                     numbers[goal] = len(numbers)
                     waiting.append(goal)
-                    self.count(1)
+                    self.count_more(1)
                 for name in names:
                     self.names_read[name] = True
                 call = None if called is None else self.number_of(called)
                 edges.append((numbers[place], goal, call, names))
-        self.count(0)
+        self.count_more(0)
         self.places.append(numbers)
         self.edges.append(edges)
 

@@ -85,7 +85,8 @@ class Lattice:
         column, told = self.base[first]
         if column[first] < 0:
             column, told = joined(-1, column, 0, {}), joined(-1, told, 0, {})
-        for row in sorted(column):
+        rows = sorted(column)
+        for row in rows:
             if row != first and row in self.base:
                 own, own_told = self.base[row]
                 times = -(column.get(row, 0) // own[row])

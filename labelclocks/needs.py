@@ -4,7 +4,7 @@ from labelclocks.actions import LINK_WORDS, ROOM_BEHIND
 from labelclocks.cellways import reached_cells
 from labelclocks.errors import BadChain
 from labelclocks.objectlists import callee_met, main_of, need_joined, need_objects
-from labelclocks.values import is_list, is_tuple_of
+from labelclocks.values import is_list, is_tuple_of, is_whole
 
 CALL = "call"
 CALL_WORDS = ("call", "last")
@@ -59,8 +59,8 @@ class CallPlan:
         """Whether any value is a link to a function."""
         if not is_tuple_of(value, 3) or not isinstance(value[0], str) or not isinstance(value[1], str):
             return False
-        # neither True nor False, which are keys that wholes are, too
-        return isinstance(value[2], int) and not isinstance(value[2], bool) and value[1:] in self.frame_words
+        # True and False would be keys as wholes are
+        return is_whole(value[2]) and value[1:] in self.frame_words
 
     def growth(self, function, word):
         """How much the stack grows when a function calls by a word."""
@@ -72,9 +72,10 @@ class CallPlan:
         waiting = [link[1:]]
         done = 0
         while done < len(waiting):
-            for further in self.links[waiting[done]]:
+            function = waiting[done]
+            for further in self.links[function]:
                 if further[1:] not in ways:
-                    ways[further[1:]] = ways[waiting[done]] + [further]
+                    ways[further[1:]] = ways[function] + [further]
                     waiting.append(further[1:])
             done += 1
         return ways

@@ -56,7 +56,7 @@ class Policy:
             sorter.sort_from(spot)
         if sorter.ring is None:
             self.choice = choice
-            self.order = sorter.order
+            self.order = sorter.in_order
             self.spot_costs = self.found_costs()
         else:
             self.ring = sorter.ring
@@ -68,7 +68,7 @@ class Sorter:
     def __init__(self, chart, choice):
         self.chart = chart
         self.choice = choice
-        self.order = []
+        self.in_order = []
         self.ring = None
         # spots that are in order, and those on the way, by their index in it
         self.done = {}
@@ -87,7 +87,7 @@ class Sorter:
                 self.way.pop()
                 self.on_way.pop(spot)
                 self.done[spot] = True
-                self.order.append(spot)
+                self.in_order.append(spot)
             elif ahead[-1] in self.on_way:
                 self.ring = self.ring_from(self.on_way[ahead[-1]])
             elif ahead[-1] in self.done:

@@ -52,7 +52,7 @@ class Sides:
         self.things = {thing[1]: thing for thing in sides[0]}
         self.readers = [{thing[1]: Reader(thing[7], thing[8]) for thing in side} for side in sides]
         self.marks = [{thing[1]: reached_marks(thing) for thing in side} for side in sides]
-        self.most_rounds = {} if rounds is None else dict(rounds)
+        self.most_rounds = {} if rounds is None else {label: rounds[label] for label in rounds}
 
     def main_net(self, main):
         """The net of main."""
