@@ -213,14 +213,14 @@ class Follower:
         return many
 
     def move(self, at, cell, registers):
-        word = cell[0]
+        word, before = cell[0], self.spot
         self.spot = (at + 1, cell[1] if word in ("get", "load") else None)
         if word in ("jump", "last") or word == "unless" and registers[cell[1]] == 0:
             self.spot = (cell[-1], None)
         elif word == "call":
             self.behind.append((self.net, (at + 1, None)))
-            starts = [places[1] for places in self.places]
-            self.net = starts[1:].index((cell[1], None)) + 1
+            place = self.place(self.net, before)
+            self.net = [edge[2] for edge in self.web[1][self.net][1] if edge[0] == place][0]
             self.spot = (cell[1], None)
         elif word == "return":
             self.net, self.spot = self.behind.pop()
