@@ -1,12 +1,10 @@
 """A desk: a bench that is worked at by lines of text."""
 
-from labelclocks.answers import ACTIONS
+from labelclocks.answers import ACTIONS, DONE
 from labelclocks.bench import Bench
 from labelclocks.errors import BadText, ClockError
 from labelclocks.readtexts import program_of, unit_of
 from labelclocks.sayings import TEXT_WORDS, parts_of
-
-DONE = "ok"
 
 
 class Desk:
@@ -28,7 +26,7 @@ class Desk:
         except BadText as wrong:
             return f"error badtext {wrong.line} {wrong.column}"
         except ClockError as why:
-            return "error " + why.__class__.__name__.lower()
+            return "error " + type(why).__name__.lower()
 
     def _answer(self, word, told):
         """The answer to a line that has a form."""

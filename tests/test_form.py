@@ -300,7 +300,7 @@ class FormTest(unittest.TestCase):
 
     def test_names_that_are_read(self):
         for name, tree in self.trees:
-            known = set(bound_names(tree)) | set(BUILTINS) | set(OWN_ERRORS) | {"property"}
+            known = set(bound_names(tree)) | set(BUILTINS) | set(OWN_ERRORS) | {"property", "type"}
             for node in tree.body:
                 if isinstance(node, ast.ImportFrom):
                     known.update(alias.name for alias in node.names)
@@ -324,7 +324,7 @@ class FormTest(unittest.TestCase):
                     self.assertTrue(known, f"{name}:{node.lineno} {node.func.attr}")
                 elif isinstance(node, ast.Attribute) and node.attr not in attributes:
                     known = node.attr in methods or node.attr in METHODS
-                    self.assertTrue(known or node.attr in ("__init__", "__class__", "__name__"), node.attr)
+                    self.assertTrue(known or node.attr in ("__init__", "__name__"), node.attr)
             for node in tree.body:
                 if isinstance(node, ast.ClassDef):
                     own = {part.name for part in node.body if isinstance(part, ast.FunctionDef)}
@@ -351,11 +351,15 @@ class FormTest(unittest.TestCase):
             for node in ast.walk(tree):
                 if isinstance(node, (ast.Module, ast.FunctionDef, ast.ClassDef)) and ast.get_docstring(node):
                     docs.add(id(node.body[0].value))
+            # the name of a class may be asked
+            named = {
+                id(node.value.func) for node in ast.walk(tree)
+                if isinstance(node, ast.Attribute) and node.attr == "__name__" and isinstance(node.value, ast.Call)}
             for node in ast.walk(tree):
                 told = ""
                 if isinstance(node, ast.Constant) and isinstance(node.value, str) and id(node) not in docs:
                     told = node.value
-                elif isinstance(node, ast.Name):
+                elif isinstance(node, ast.Name) and id(node) not in named:
                     told = node.id
                 elif isinstance(node, ast.Attribute):
                     told = node.attr
